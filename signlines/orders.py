@@ -1,0 +1,35 @@
+"""Rows of fractions (lines, planes) sorted as numbers, each row once."""
+
+from signlines.reckon import is_less
+
+
+def goes_ahead(one, other):
+    """Whether the first row goes ahead: by the first number that is unlike."""
+    for mine, yours in zip(one, other):
+        if mine != yours:
+            return is_less(mine, yours)
+    return False
+
+
+def place_of(rows, row):
+    """How many of the sorted rows go ahead of this one."""
+    low = 0
+    high = len(rows)
+    while low < high:
+        middle = (low + high) // 2
+        if goes_ahead(rows[middle], row):
+            low = middle + 1
+        else:
+            high = middle
+    return low
+
+
+def sorted_once(rows):
+    """A new list of the rows, sorted, alike ones only once."""
+    # Python's own order of tuples would compare tops and bottoms, not numbers.
+    found = []
+    for row in rows:
+        at = place_of(found, row)
+        if at == len(found) or found[at] != row:
+            found.insert(at, row)
+    return found

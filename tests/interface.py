@@ -1,0 +1,84 @@
+"""The interface as far as it has landed: each function, what it is handed, how it refuses."""
+
+import importlib
+
+from tests import wrongs
+from tests.helpers import pts, q, row
+
+POINTS = pts((0, 0), (1, "1/2", 2), (3, -1, "1/3"))
+COLUMN = pts((2, 0), (2, 1, 3), (2, "-1/2"))
+
+# A kind of argument: what is right, all that is wrong, and the refusal of it.
+KINDS = {
+    "points": (POINTS, wrongs.wrong_points, "NoPoints"),
+    "point": (row(1, 2, 3), wrongs.wrong_point, "NoPoints"),
+    "other point": (row(3, 2, 1), wrongs.wrong_point, "NoPoints"),
+    "prices": (row(1, 2), wrongs.wrong_prices, "NoPrices"),
+    "line": (row("1/2", -3), wrongs.wrong_lines, "NoLine"),
+    "fraction": (q(2, 3), wrongs.wrong_fractions, "NoFraction"),
+    "factor": (q(-2, 3), wrongs.wrong_factors, "NoFraction"),
+    "whole": (6, wrongs.wrong_whole_numbers, "NoFraction"),
+    "divisor": (4, lambda: wrongs.wrong_whole_numbers() + [0], "NoFraction"),
+    "lines": ([row(0, 1), row(1, 1), row(2, "1/2")], wrongs.wrong_list_of_lines, "NoLines"),
+    "shares": ([q(1, 2), q(0), q(1, 2)], lambda: wrongs.wrong_shares(3), "NoShares"),
+    "numbers": ([q(5), q(0), q(-1, 2)], lambda: wrongs.wrong_numbers_for(3), "NoShares"),
+    "thing": (None, lambda: [], None),
+    "number": (q(1, 2), lambda: [], None),
+}
+
+# Each function's module, its arguments' kinds in the order of the interface, and whether it asks for spread points.
+FUNCTIONS = {
+    "fraction": ("fractions", ["whole", "divisor"], False),
+    "plus": ("fractions", ["number", "number"], False),
+    "less": ("fractions", ["number", "number"], False),
+    "times": ("fractions", ["number", "number"], False),
+    "over": ("fractions", ["number", "number"], False),
+    "opposite": ("fractions", ["number"], False),
+    "is_below": ("fractions", ["number", "number"], False),
+    "is_fraction": ("fractions", ["thing"], False),
+    "is_points": ("points", ["thing"], False),
+    "is_prices": ("points", ["thing"], False),
+    "is_line": ("points", ["thing"], False),
+    "is_spread": ("points", ["points"], False),
+    "tilted": ("points", ["points", "line"], False),
+    "stretched": ("points", ["points", "factor", "factor"], False),
+    "stands": ("lines", ["line", "fraction"], False),
+    "rises": ("lines", ["points", "line"], False),
+    "sides": ("lines", ["points", "line"], False),
+    "cost": ("lines", ["points", "prices", "line"], False),
+    "mixed": ("lines", ["lines", "shares"], False),
+    "tilted_line": ("lines", ["line", "line"], False),
+    "stretched_line": ("lines", ["line", "factor", "factor"], False),
+    "through": ("pairs", ["point", "other point"], False),
+    "pair_lines": ("pairs", ["points"], True),
+    "least_cost": ("best", ["points", "prices"], True),
+    "best_line": ("best", ["points", "prices"], True),
+    "is_best": ("best", ["points", "prices", "thing"], True),
+    "are_signs": ("signs", ["points", "prices", "thing"], False),
+    "is_balanced": ("signs", ["points", "thing"], False),
+    "fit": ("signs", ["points", "prices", "line", "thing"], False),
+    "worth": ("signs", ["points", "numbers"], False),
+    "corners": ("corners", ["points", "prices"], True),
+    "kind": ("corners", ["points", "prices"], True),
+    "slopes": ("corners", ["points", "prices"], True),
+    "heights": ("corners", ["points", "prices", "fraction"], True),
+    "sums": ("sums", ["points", "line"], False),
+    "span": ("sums", ["points", "line"], True),
+}
+
+
+def told_by(name):
+    """The function of that name, from the module that the interface names."""
+    return getattr(importlib.import_module("signlines." + FUNCTIONS[name][0]), name)
+
+
+def right_things(name):
+    return [KINDS[kind][0] for kind in FUNCTIONS[name][1]]
+
+
+def wrong_things(kind):
+    return KINDS[kind][1]()
+
+
+def refusal(kind):
+    return KINDS[kind][2]

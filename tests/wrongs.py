@@ -1,0 +1,108 @@
+"""What is none of a kind, though near it: each wrong thing at each place, first, between and last."""
+
+from tests.helpers import pts, q, row
+
+SIXTY = 10 ** 60
+
+NO_FRACTIONS = [
+    None, True, False, 0, 1, -3, "", "1", "1/2", b"1", [], [1, 2], (), (1,), (1, 2, 3), (1, 2, 1),
+    (2, 4), (-2, 4), (0, 2), (0, -1), (3, 3), (1, 0), (0, 0), (1, -2), (-1, -2), (SIXTY, 2 * SIXTY), (1, -SIXTY),
+    (True, 1), (False, 1), (1, True), (0, True), (True, True), (None, 1), (1, None), ("1", 1), (1, "2"), ("1", "2"),
+    ((1, 1), 1), (1, (1, 1)), ((1, 2), (1, 2)), ([1], 1), [1, 1], {1: 2}, {1, 2}, range(1, 3), object(), int, [(1, 2)],
+]
+
+NOT_ABOVE_NOUGHT = [(0, 1), (-1, 1), (-1, 2), (-SIXTY, 7)]
+
+# Of no kind at all, wherever something is asked for.
+NOTHINGS = [None, True, False, 0, 7, "", "text", "1 2 3", b"12", {}, {1: 2}, set(), range(3), object(), list]
+
+
+def with_part(whole, at, part):
+    """The same list or tuple, with another part at one place."""
+    parts = list(whole)
+    parts[at] = part
+    return parts if isinstance(whole, list) else tuple(parts)
+
+
+def places(whole):
+    return sorted({0, len(whole) // 2, len(whole) - 1})
+
+
+def wrong_fractions():
+    return list(NO_FRACTIONS)
+
+
+def wrong_factors():
+    return wrong_fractions() + [(0, 1)]
+
+
+def wrong_whole_numbers():
+    return [None, True, False, "1", "", b"1", (1,), (1, 2), [1], [], {}, q(1), object(), int]
+
+
+def wrong_rows(right):
+    """What is no tuple of so many fractions, as a line is."""
+    found = list(NOTHINGS) + [(), list(right), [], right[:-1], right + (q(1),), (right,), [right], right + right]
+    for at in range(len(right)):
+        found += [with_part(right, at, part) for part in NO_FRACTIONS]
+    return found
+
+
+def wrong_lines():
+    return wrong_rows(row("1/2", -3))
+
+
+def wrong_prices():
+    right = row("1/2", 3)
+    found = wrong_rows(right)
+    for at in (0, 1):
+        found += [with_part(right, at, part) for part in NOT_ABOVE_NOUGHT]
+    return found + [row(0, 0), row(-1, -1)]
+
+
+def wrong_point():
+    right = row(2, "-1/2", 3)
+    return wrong_rows(right) + [with_part(right, 2, part) for part in NOT_ABOVE_NOUGHT]
+
+
+def wrong_lists(right, wrong_part, most):
+    """What is no list of one to so many things: a wrong one at each place of a right list."""
+    found = list(NOTHINGS) + [[], (), tuple(right), right[0], [right], [list(one) for one in right]]
+    found += [{k: one for k, one in enumerate(right)}, iter(right), (right,)]
+    found.append((right * most)[:most + 1])
+    found.append((right * most)[:most] + [right[0]] * 4)
+    for at in places(right):
+        found += [with_part(right, at, part) for part in wrong_part]
+    found.append((right * most)[:most - 1] + [wrong_part[0]])
+    return found
+
+
+def wrong_points():
+    return wrong_lists(pts((0, 0), (1, "1/2", 2), (3, -1, "1/3")), wrong_point(), 12)
+
+
+def wrong_list_of_lines():
+    return wrong_lists([row(0, 1), row(1, "1/2"), row(-2, 3)], wrong_lines(), 30)
+
+
+def wrong_numbers_for(many):
+    """What is no list of so many fractions."""
+    right = [q(0)] * many
+    found = list(NOTHINGS) + [[], (), tuple(right), q(1), [right], right[:-1], right + [q(0)], right + right]
+    for at in places(right):
+        found += [with_part(right, at, part) for part in NO_FRACTIONS]
+    return found
+
+
+def wrong_shares(many):
+    """What is no list of so many shares."""
+    even = [q(1, many)] * many
+    first = [q(1)] + [q(0)] * (many - 1)
+    found = wrong_numbers_for(many) + [tuple(even), even[:-1], first + [q(0)], even + [q(0)], first[:-1]]
+    found += [[q(0)] * many, [q(1)] * many, [q(1, many + 1)] * many, [q(-1, many)] * many]
+    for at in places(first):
+        for other in places(first):
+            if at != other:
+                found.append(with_part(with_part([q(0)] * many, at, q(-1)), other, q(2)))
+        found += [with_part(even, at, part) for part in NO_FRACTIONS + [q(0), q(1), q(2), q(-1, many)]]
+    return found
