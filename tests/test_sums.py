@@ -60,10 +60,12 @@ class Span(Case):
         told = self.asked(span, points, line)
         lines = [model.sums(points, one) for one in model.pair_lines(points)]
         over, under = model.sums(points, line)
+        truths = []
         for t in tried(points, line):
-            truth = all(over * t + under * (1 - t) <= o * t + u * (1 - t) for o, u in lines)
+            truths.append(all(over * t + under * (1 - t) <= o * t + u * (1 - t) for o, u in lines))
             inside = told is not None and num(told[0]) <= t <= num(told[1])
-            self.assertEqual(inside, truth, (points, line, t))
+            self.assertEqual(inside, truths[-1], (points, line, t))
+        self.assertEqual(told is not None, any(truths), (points, line))
         if told is not None:
             for end in told:
                 self.assertTrue(0 <= num(end) <= 1)
@@ -93,6 +95,17 @@ class Span(Case):
         self.assertEqual(self.held_to(points, row(0, 0)), (q(0), q(3, 10)))
         self.assertEqual(self.held_to(points, row(2, 0)), (q(3, 10), q(7, 10)))
         self.assertEqual(self.held_to(points, row(5, 0)), (q(7, 10), q(1)))
+
+    def test_best_at_none_though_no_one_line_costs_less_at_each(self):
+        points = pts((0, 0), (0, 3), (0, 5), (2, 0), (2, 3), (2, 5))
+        self.assertEqual(self.held_to(points, row(0, 0)), (q(0), q(1, 3)))
+        self.assertEqual(self.held_to(points, row(3, 0)), (q(1, 3), q(2, 3)))
+        self.assertEqual(self.held_to(points, row(5, 0)), (q(2, 3), q(1)))
+        self.assertEqual(self.held_to(points, row(1, 0)), (q(1, 3), q(1, 3)))
+        self.assertIsNone(self.held_to(points, row(0, "5/2")))
+        heavy = pts((0, 0, 3), (0, 1), (0, 2, 3), (5, 0))
+        self.assertIsNone(self.held_to(heavy, row("-1/9", 0)))
+        self.assertIsNone(self.held_to(pts((0, 0), (1, 0), (2, 0), (0, 4), (1, 1), (2, 4)), row(4, -3)))
 
     def test_each_pair_line_and_others(self):
         chance = random.Random(151)
