@@ -12,13 +12,14 @@ FOLDER = os.path.dirname(os.path.abspath(signlines.__file__))
 LIBRARY = {
     "heapq": {"heappush", "heappop", "heapify", "heapreplace", "heappushpop"},
     "math": {"gcd", "lcm", "isqrt", "comb", "perm", "factorial"},
-    "itertools": {"product", "combinations", "permutations", "chain", "accumulate", "pairwise", "islice", "zip_longest"},
+    "itertools": {"product", "combinations", "permutations", "chain", "accumulate", "pairwise", "islice",
+                  "zip_longest"},
     "collections": {"defaultdict"},
     "__future__": {"annotations"},
 }
 BUILTINS = set(
-    "len range enumerate zip min max sum abs sorted reversed int str bool bytes list tuple dict set frozenset isinstance"
-    " ord repr any all divmod pow getattr hasattr setattr Exception ValueError TypeError KeyError IndexError"
+    "len range enumerate zip min max sum abs sorted reversed int str bool bytes list tuple dict set frozenset"
+    " isinstance ord repr any all divmod pow getattr hasattr setattr Exception ValueError TypeError KeyError IndexError"
     " LookupError ZeroDivisionError ArithmeticError OverflowError RuntimeError NotImplementedError AttributeError"
     " StopIteration NotImplemented iter next map property staticmethod classmethod super object float".split()
 )

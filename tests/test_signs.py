@@ -119,8 +119,9 @@ class Fit(Case):
     def test_known_ones(self):
         points = pts((0, 0), (1, 0), (2, 0), (1, 5))
         prices, flat = row(1, 1), row(0, 0)
-        for numbers, truth in [(("-1/2", 0, "-1/2", 1), True), ((0, -1, 0, 1), True), (("-1/4", "-1/2", "-1/4", 1), True),
-                               ((-1, 1, -1, 1), True), ((0, 0, 0, 0), False), (("1/2", 0, "1/2", -1), False),
+        for numbers, truth in [(("-1/2", 0, "-1/2", 1), True), ((0, -1, 0, 1), True), ((-1, 1, -1, 1), True),
+                               (("-1/4", "-1/2", "-1/4", 1), True), ((0, 0, 0, 0), False),
+                               (("1/2", 0, "1/2", -1), False),
                                (("1/2", -2, "1/2", 1), False), ((-1, 0, 0, 1), False),
                                ((-1, "6/5", "-6/5", 1), False), (("-1/4", 0, "-1/4", "1/2"), False)]:
             self.told_truth(truth, fit, points, prices, flat, qs(*numbers))
@@ -139,8 +140,9 @@ class Fit(Case):
     def test_points_on_the_line_lie_within_their_ends(self):
         points = pts((0, 0), (1, 0), (2, 0), (3, 0))
         prices = row(1, 2)
-        for numbers, truth in [((1, -2, 1, 0), True), ((0, 1, -2, 1), True), ((1, -1, -1, 1), True), ((0, 0, 0, 0), True),
-                               (("11/10", "-11/5", "11/10", 0), False), (("-3/2", 3, "-3/2", 0), False)]:
+        for numbers, truth in [((1, -2, 1, 0), True), ((0, 1, -2, 1), True), ((1, -1, -1, 1), True),
+                               ((0, 0, 0, 0), True), (("11/10", "-11/5", "11/10", 0), False),
+                               (("-3/2", 3, "-3/2", 0), False)]:
             self.told_truth(truth, fit, points, prices, row(0, 0), qs(*numbers))
 
     def test_points_of_one_x_and_one_point(self):
