@@ -1,4 +1,4 @@
-"""Rows of fractions (lines, planes) sorted as numbers, each row once."""
+"""Fractions, and rows of them (lines, planes), in their order as numbers."""
 
 from signlines.reckon import is_less
 
@@ -32,4 +32,15 @@ def sorted_once(rows):
         at = place_of(found, row)
         if at == len(found) or found[at] != row:
             found.insert(at, row)
+    return found
+
+
+def rising(numbers):
+    """Their places in the list, from 0, in an order in which the numbers rise."""
+    found = []
+    for k, number in enumerate(numbers):
+        at = len(found)
+        while at > 0 and is_less(number, numbers[found[at - 1]]):
+            at -= 1
+        found.insert(at, k)
     return found

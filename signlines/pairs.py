@@ -7,12 +7,21 @@ from signlines.points import need_point, need_points, need_spread
 from signlines.reckon import divided, multiplied, subtracted
 
 
+def slope_to(place, point):
+    """The slope from a place to a point of another x."""
+    return divided(subtracted(point[1], place[1]), subtracted(point[0], place[0]))
+
+
+def line_at(place, slope):
+    """The line of that slope that goes through the place."""
+    return (subtracted(place[1], multiplied(slope, place[0])), slope)
+
+
 def line_through(one, other):
     """The line through two points, known to be such, or None where their x are alike."""
     if one[0] == other[0]:
         return None
-    slope = divided(subtracted(other[1], one[1]), subtracted(other[0], one[0]))
-    return (subtracted(one[1], multiplied(slope, one[0])), slope)
+    return line_at(one, slope_to(one, other))
 
 
 def pair_lines_of(points):

@@ -1,7 +1,7 @@
 """Points, prices and lines: what they are, and points that are moved."""
 
 from signlines.errors import NoLine, NoPoints, NoPrices, NoSpread
-from signlines.fractions import is_row, need_factor
+from signlines.fractions import is_row, is_whole, need_factor
 from signlines.reckon import added, multiplied
 
 MOST_POINTS = 12
@@ -27,6 +27,11 @@ def is_prices(thing):
 def is_line(thing):
     """Whether it is a tuple (height, slope)."""
     return is_row(thing, 2)
+
+
+def is_number(thing, many):
+    """Whether it is the number of one of so many points."""
+    return is_whole(thing) and 0 <= thing < many
 
 
 def need_point(thing):

@@ -7,6 +7,7 @@ from tests.helpers import pts, q, row
 
 POINTS = pts((0, 0), (1, "1/2", 2), (3, -1, "1/3"))
 COLUMN = pts((2, 0), (2, 1, 3), (2, "-1/2"))
+SPOTS = [row(0, 0, 1, 1), row(1, "1/2", 0, 2), row(3, -1, 2, "1/3"), row(1, 1, 1, 1)]
 
 # A kind of argument: what is right, all that is wrong, and the refusal of it.
 KINDS = {
@@ -22,6 +23,13 @@ KINDS = {
     "lines": ([row(0, 1), row(1, 1), row(2, "1/2")], wrongs.wrong_list_of_lines, "NoLines"),
     "shares": ([q(1, 2), q(0), q(1, 2)], lambda: wrongs.wrong_shares(3), "NoShares"),
     "numbers": ([q(5), q(0), q(-1, 2)], lambda: wrongs.wrong_numbers_for(3), "NoShares"),
+    "part": (q(2, 5), wrongs.wrong_parts, "NoFraction"),
+    "place": (row("1/2", -3), wrongs.wrong_lines, "NoPlace"),
+    "spots": (SPOTS, wrongs.wrong_spots, "NoSpots"),
+    "plane": (row(1, "-1/2", 3), wrongs.wrong_planes, "NoPlane"),
+    "few points": (POINTS, wrongs.wrong_few_points, "NoPoints"),
+    "one fraction": (q(-1, 2), wrongs.wrong_fractions, "NoFraction"),
+    "other fraction": (q(3), lambda: wrongs.wrong_fractions() + [q(-1, 2)], "NoFraction"),
     "thing": (None, lambda: [], None),
     "number": (q(1, 2), lambda: [], None),
 }
@@ -64,6 +72,20 @@ FUNCTIONS = {
     "heights": ("corners", ["points", "prices", "fraction"], True),
     "sums": ("sums", ["points", "line"], False),
     "span": ("sums", ["points", "line"], True),
+    "turns": ("turning", ["points"], True),
+    "between": ("turning", ["points"], True),
+    "corners_at": ("turning", ["points", "part"], True),
+    "pinned_slopes": ("pinned", ["points", "prices", "place"], False),
+    "pinned_signs": ("pinned", ["points", "prices", "place"], False),
+    "pinned_fit": ("pinned", ["points", "prices", "place", "fraction", "thing"], False),
+    "is_spots": ("spots", ["thing"], False),
+    "is_plane": ("spots", ["thing"], False),
+    "is_wide": ("spots", ["spots"], False),
+    "laid_twice": ("spots", ["few points", "one fraction", "other fraction"], False),
+    "spot_rises": ("spots", ["spots", "plane"], False),
+    "plane_cost": ("spots", ["spots", "prices", "plane"], False),
+    "alternation": ("alternation", ["points"], True),
+    "comes_to": ("alternation", ["points", "thing"], False),
 }
 
 

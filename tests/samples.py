@@ -119,3 +119,43 @@ def shares(chance, many):
     parts = [chance.choice([0, 1, 1, 2, 5]) for _ in range(many)]
     parts[chance.randrange(many)] += 1
     return [q(Fraction(part, sum(parts))) for part in parts]
+
+
+THIRTY = 10 ** 30 - 1
+
+
+def places(chance, points):
+    """Places for pinned lines: a point's own, above one, between them, far from all."""
+    x, y, w = chance.choice(points)
+    return [(x, y), (x, small(chance)), (small(chance), small(chance)), (q(100), small(chance)), (q(-50), y)]
+
+
+def long_place(chance):
+    return (long_number(chance), long_number(chance))
+
+
+def thirty(chance):
+    """Of up to thirty figures above, and below the stroke."""
+    return q(chance.randint(-THIRTY, THIRTY), chance.randint(1, THIRTY))
+
+
+def spots(chance, many):
+    return [(small(chance), small(chance), small(chance), weight(chance)) for _ in range(many)]
+
+
+def spots_on_a_grid(chance, many):
+    return [(whole(chance, 1), whole(chance, 1), whole(chance, 2), q(1)) for _ in range(many)]
+
+
+def long_spots(chance, many):
+    return [(thirty(chance), thirty(chance), thirty(chance), q(abs(thirty(chance)[0]) + 1, 7)) for _ in range(many)]
+
+
+def all_spots(seed, each=2):
+    chance = random.Random(seed)
+    found = [make(chance, many) for make in (spots, spots_on_a_grid) for many in range(1, 9) for _ in range(each)]
+    return found + [long_spots(chance, many) for many in (1, 3, 8)]
+
+
+def plane(chance):
+    return (small(chance), small(chance), small(chance))

@@ -22,6 +22,13 @@ SOME_WRONG = {
     "lines": [None, [], [row(1)], (row(1, 1), row(1, 2), row(1, 3)), [row(1, 1)] * 31],
     "shares": [None, [], [q(1), q(0)], [q(1), q(1), q(-2)], (q(1), q(0), q(0)), [q(1)] * 3],
     "numbers": [None, [], [q(1), q(0)], (q(1), q(0), q(0)), [q(1), 1, q(1)]],
+    "part": [None, True, 1, (2, 4), q(0), q(1), q(-1, 2), q(3, 2), [1, 2]],
+    "place": [None, row(1), row(1, 1, 1), list(row(1, 1)), ((2, 4), (1, 1))],
+    "spots": [None, [], (), [row(1, 1, 1)], [row(1, 1, 1, 0)], [row(1, 1, 1, 1)] * 9, tuple([row(1, 1, 1, 1)])],
+    "plane": [None, row(1, 1), row(1, 1, 1, 1), list(row(1, 1, 1)), ((2, 4), (1, 1), (1, 1))],
+    "few points": [None, [], (), pts((0, 0), (1, 1)) * 3, [row(1, 1)], pts((0, 0), (1, 1, 0))],
+    "one fraction": [None, True, 1, (2, 4), (1, 0), [1, 2], q(3)],
+    "other fraction": [None, True, 1, (2, 4), (1, 0), [1, 2]],
 }
 
 
@@ -111,9 +118,10 @@ class Refusals(Case):
     def test_no_thing_is_too_odd_to_be_told_none(self):
         itself = []
         itself.append(itself)
-        for name in ("is_fraction", "is_points", "is_prices", "is_line"):
+        for name in ("is_fraction", "is_points", "is_prices", "is_line", "is_spots", "is_plane"):
             for thing in wrong_things("points") + [itself, (itself, itself), Case, len]:
-                self.assertIs(told_by(name)(thing), False)
+                if name != "is_plane" or thing != row(0, 0, 1):
+                    self.assertIs(told_by(name)(thing), False)
 
 
 class Kept(Case):

@@ -106,3 +106,31 @@ def wrong_shares(many):
                 found.append(with_part(with_part([q(0)] * many, at, q(-1)), other, q(2)))
         found += [with_part(even, at, part) for part in NO_FRACTIONS + [q(0), q(1), q(2), q(-1, many)]]
     return found
+
+
+def wrong_parts():
+    """What is no fraction above 0 and below 1."""
+    far = SIXTY - 1
+    return wrong_fractions() + NOT_ABOVE_NOUGHT + [(1, 1), (-1, 1), (2, 1), (3, 2), (far + 1, far), (-1, far), (-3, 2)]
+
+
+def wrong_planes():
+    return wrong_rows(row("1/2", -3, 7))
+
+
+def wrong_few_points():
+    """What is no list of one to four points."""
+    right = pts((0, 0), (1, "1/2", 2), (3, -1, "1/3"))
+    many = pts(*[(k, k * k) for k in range(12)])
+    return wrong_points() + wrong_lists(right, wrong_point(), 4) + [many[:5], many[:8], many]
+
+
+def wrong_spot():
+    right = row(2, "-1/2", 0, 3)
+    return wrong_rows(right) + [with_part(right, 3, part) for part in NOT_ABOVE_NOUGHT]
+
+
+def wrong_spots():
+    """What is no list of one to eight spots."""
+    right = [row(0, 0, 1, 1), row(1, "1/2", 0, 2), row(3, -1, 2, "1/3")]
+    return wrong_lists(right, wrong_spot(), 8) + [pts((0, 0), (1, 1), (2, 0))]

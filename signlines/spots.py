@@ -1,0 +1,110 @@
+"""Spots in space, and planes: what they are, rises, costs, points laid twice."""
+
+from itertools import combinations
+
+from signlines.errors import NoFraction, NoPlane, NoPoints, NoSpots
+from signlines.fractions import is_row, need_fraction
+from signlines.points import need_points, need_prices
+from signlines.reckon import added, multiplied, negated, subtracted, total
+
+MOST_SPOTS = 8
+MOST_LAID = 4
+
+
+def is_spot(thing):
+    """Whether it is a tuple (x, y, z, weight), the weight above 0."""
+    return is_row(thing, 4) and thing[3][0] > 0
+
+
+def is_spots(thing):
+    """Whether it is a list of one to eight spots."""
+    if not isinstance(thing, list) or not 1 <= len(thing) <= MOST_SPOTS:
+        return False
+    return all(is_spot(part) for part in thing)
+
+
+def is_plane(thing):
+    """Whether it is a tuple (height, along, across)."""
+    return is_row(thing, 3)
+
+
+def need_spots(thing):
+    if not is_spots(thing):
+        raise NoSpots("spots are a list of one to eight tuples of x, y, z and a weight above 0")
+
+
+def need_plane(thing):
+    if not is_plane(thing):
+        raise NoPlane("a plane is a tuple of three fractions, its height, along and across")
+
+
+def are_in_line(one, other, third):
+    """Whether the places of three spots are on one straight line."""
+    here = multiplied(subtracted(other[0], one[0]), subtracted(third[1], one[1]))
+    there = multiplied(subtracted(third[0], one[0]), subtracted(other[1], one[1]))
+    return here == there
+
+
+def are_wide(spots):
+    """Whether the places of three spots, known to be such, are not on one straight line."""
+    for one, other, third in combinations(spots, 3):
+        if not are_in_line(one, other, third):
+            return True
+    return False
+
+
+def is_wide(spots):
+    """Whether the places of three are not on one straight line."""
+    need_spots(spots)
+    return are_wide(spots)
+
+
+def laid_twice(points, one, other):
+    """For each of one to four points a spot at each of two unlike fractions, its y as z."""
+    need_points(points)
+    if len(points) > MOST_LAID:
+        raise NoPoints("one to four points are laid twice")
+    need_fraction(one)
+    need_fraction(other)
+    if one == other:
+        raise NoFraction("points are laid at two unlike fractions")
+    found = []
+    for x, y, weight in points:
+        found.append((x, one, y, weight))
+        found.append((x, other, y, weight))
+    return found
+
+
+def spot_rise(spot, plane):
+    """The z of a spot less where the plane stands there, both known to be such."""
+    x, y, z, _ = spot
+    height, along, across = plane
+    return subtracted(z, added(height, added(multiplied(along, x), multiplied(across, y))))
+
+
+def cost_of_plane(spots, prices, plane):
+    """What a plane costs, all three known to be such."""
+    up, down = prices
+    parts = []
+    for spot in spots:
+        rise = spot_rise(spot, plane)
+        if rise[0] > 0:
+            parts.append(multiplied(up, multiplied(spot[3], rise)))
+        else:
+            parts.append(multiplied(down, multiplied(spot[3], negated(rise))))
+    return total(parts)
+
+
+def spot_rises(spots, plane):
+    """A list: each spot's rise over the plane."""
+    need_spots(spots)
+    need_plane(plane)
+    return [spot_rise(spot, plane) for spot in spots]
+
+
+def plane_cost(spots, prices, plane):
+    """What the plane costs at the prices."""
+    need_spots(spots)
+    need_prices(prices)
+    need_plane(plane)
+    return cost_of_plane(spots, prices, plane)
