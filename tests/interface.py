@@ -30,6 +30,8 @@ KINDS = {
     "few points": (POINTS, wrongs.wrong_few_points, "NoPoints"),
     "one fraction": (q(-1, 2), wrongs.wrong_fractions, "NoFraction"),
     "other fraction": (q(3), lambda: wrongs.wrong_fractions() + [q(-1, 2)], "NoFraction"),
+    "text": ("-3/2", wrongs.wrong_texts, "NoText"),
+    "pair line": (row(0, "1/2"), wrongs.wrong_lines, "NoLine"),
     "thing": (None, lambda: [], None),
     "number": (q(1, 2), lambda: [], None),
 }
@@ -86,6 +88,15 @@ FUNCTIONS = {
     "plane_cost": ("spots", ["spots", "prices", "plane"], False),
     "alternation": ("alternation", ["points"], True),
     "comes_to": ("alternation", ["points", "thing"], False),
+    "show_fraction": ("texts", ["fraction"], False),
+    "read_fraction": ("texts", ["text"], False),
+    "signs_of": ("signing", ["points", "prices", "line"], True),
+    "best_signs": ("signing", ["points", "prices"], True),
+    "width": ("widths", ["points", "line"], False),
+    "least_width": ("widths", ["points"], True),
+    "narrowest": ("widths", ["points"], True),
+    "road": ("roads", ["points", "prices", "pair line"], True),
+    "is_road": ("roads", ["points", "prices", "thing"], False),
 }
 
 

@@ -1,0 +1,72 @@
+"""Greatest distances from lines, and the lines of which they are least."""
+
+from signlines.alternation import widest
+from signlines.lines import rise_of
+from signlines.orders import sorted_once
+from signlines.pairs import line_at, line_through, pair_lines_of, slope_to
+from signlines.points import need_line, need_points, need_spread
+from signlines.reckon import NOUGHT, added, divided, ends, greater, multiplied, negated, subtracted
+
+
+def distance_of(point, line):
+    """How far a point is above or beneath the line."""
+    rise = rise_of(point, line)
+    return negated(rise) if rise[0] < 0 else rise
+
+
+def place_off(points, row, least):
+    """Where the narrowest lines, of that width, go by a point of an alternation that comes to it."""
+    k, sign, _ = row
+    x, y, weight = points[k]
+    far = divided(least, weight)
+    return (x, subtracted(y, far) if sign == 1 else added(y, far))
+
+
+def slopes_within(points, place, least):
+    """The least and the greatest slope of the lines through the place that are of that width."""
+    lows = []
+    highs = []
+    for x, y, weight in points:
+        if x != place[0]:
+            far = divided(least, weight)
+            low, high = ends([slope_to(place, (x, subtracted(y, far))), slope_to(place, (x, added(y, far)))])
+            lows.append(low)
+            highs.append(high)
+    return (ends(lows)[1], ends(highs)[0])
+
+
+def narrowest_of(points):
+    """The one or two narrowest lines of spread points, sorted."""
+    least, found = widest(points)
+    if len(found) == 0:
+        # A width of 0: all points are on the one pair line.
+        return pair_lines_of(points)
+    places = [place_off(points, row, least) for row in found]
+    if len(places) == 3:
+        return [line_through(places[0], places[1])]
+    low, high = slopes_within(points, places[0], least)
+    return sorted_once([line_at(places[0], low), line_at(places[0], high)])
+
+
+def width(points, line):
+    """The greatest of the points' weights times their distances up or down from the line."""
+    need_points(points)
+    need_line(line)
+    found = NOUGHT
+    for point in points:
+        found = greater(found, multiplied(point[2], distance_of(point, line)))
+    return found
+
+
+def least_width(points):
+    """The width of the narrowest lines."""
+    need_points(points)
+    need_spread(points)
+    return widest(points)[0]
+
+
+def narrowest(points):
+    """A list, sorted: the one line of the least width, or the two of which all such are mixtures."""
+    need_points(points)
+    need_spread(points)
+    return narrowest_of(points)
