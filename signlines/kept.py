@@ -7,7 +7,7 @@ from signlines.roads import priced_pair_lines, road_from
 
 def road_of(points, prices, line):
     """A road to a best line of the points; from the line, where that still is a pair line of theirs."""
-    if len(points) == 0 or not has_two_x(points):
+    if not has_two_x(points):
         return []
     rows = priced_pair_lines(points, prices)
     found = road_from(points, rows, line)

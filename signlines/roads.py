@@ -57,7 +57,8 @@ def leads_on(points, rows, one, other):
 
 def ends_best(rows, line):
     """Whether no pair line costs less than this one."""
-    return not any(is_less(here, cost_among(rows, line)) for here, _ in rows)
+    least = cost_among(rows, line)
+    return not any(is_less(here, least) for here, _ in rows)
 
 
 def road(points, prices, line):

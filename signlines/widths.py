@@ -3,7 +3,7 @@
 from signlines.alternation import widest
 from signlines.lines import rise_of
 from signlines.orders import sorted_once
-from signlines.pairs import line_at, line_through, pair_lines_of, slope_to
+from signlines.pairs import line_at, pair_lines_of, slope_to
 from signlines.points import need_line, need_points, need_spread
 from signlines.reckon import NOUGHT, added, divided, ends, greater, multiplied, negated, subtracted
 
@@ -15,7 +15,7 @@ def distance_of(point, line):
 
 
 def place_off(points, row, least):
-    """Where the narrowest lines, of that width, go by a point of an alternation that comes to it."""
+    """Where all lines of the least width go by a point of an alternation that comes to it."""
     k, sign, _ = row
     x, y, weight = points[k]
     far = divided(least, weight)
@@ -33,19 +33,6 @@ def slopes_within(points, place, least):
             lows.append(low)
             highs.append(high)
     return (ends(lows)[1], ends(highs)[0])
-
-
-def narrowest_of(points):
-    """The one or two narrowest lines of spread points, sorted."""
-    least, found = widest(points)
-    if len(found) == 0:
-        # A width of 0: all points are on the one pair line.
-        return pair_lines_of(points)
-    places = [place_off(points, row, least) for row in found]
-    if len(places) == 3:
-        return [line_through(places[0], places[1])]
-    low, high = slopes_within(points, places[0], least)
-    return sorted_once([line_at(places[0], low), line_at(places[0], high)])
 
 
 def width(points, line):
@@ -69,4 +56,11 @@ def narrowest(points):
     """A list, sorted: the one line of the least width, or the two of which all such are mixtures."""
     need_points(points)
     need_spread(points)
-    return narrowest_of(points)
+    least, found = widest(points)
+    if len(found) == 0:
+        # A width of 0: all points are on the one pair line.
+        return pair_lines_of(points)
+    place = place_off(points, found[0], least)
+    low, high = slopes_within(points, place, least)
+    # Where three points alternate low and high are one slope.
+    return sorted_once([line_at(place, low), line_at(place, high)])

@@ -14,7 +14,7 @@ from tests.helpers import Case, pts, q, row, spoilt
 
 PRICES = row(1, 2)
 SOME = pts((0, 0), (1, "1/2", 2), (3, -1, "1/3"), (1, 5))
-NO_NUMBERS = [None, True, False, -1, -2, -5, 10 ** 60, "0", "1", b"0", "", (0,), [0], [], {}, (0, 1), (1, 1), object(), int]
+NO_NUMBERS = [None, True, False, -1, -2, -5, 10 ** 60, "0", "1", b"0", "", (0,), [0], [], {}, (0, 1), (1, 1), object()]
 
 
 def kept_with(points, prices=PRICES):

@@ -117,6 +117,10 @@ class SignsOf(Signing):
         self.assertIsNone(self.signed(pts((0, 0), (2, 0), (1, 5, "21/10")), row(1, 1), row(0, 0)))
         self.assertEqual(self.signed(pts((0, 0), (2, 0), (1, -5, 2)), row(1, 1), row(0, 0)), qs(1, 1, -2))
         self.assertIsNone(self.signed(pts((0, 0), (2, 0), (1, -5, "21/10")), row(1, 1), row(0, 0)))
+        # Here the moment would be 0.
+        for y, weight in [(5, 3), (5, "201/100"), (-5, 3), (-5, "201/100")]:
+            self.assertIsNone(self.signed(pts((-1, 0), (1, 0), (0, y, weight)), row(1, 1), row(0, 0)))
+            self.assertIsNotNone(self.signed(pts((-1, 0), (1, 0), (0, y, 2)), row(1, 1), row(0, 0)))
 
     def test_points_of_one_x_on_the_line(self):
         points = pts((0, 0), (0, 0, "1/2"), (2, 0), (2, 0, 3), (1, 4), (0, -1))

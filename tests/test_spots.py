@@ -226,7 +226,8 @@ class InItsPlace(Case):
             self.assertEqual(plane_cost(spots, row(1, 3), plane), q(model_cost(spots, row(1, 3), plane)))
             self.assertIs(is_wide(spots), model_wide(spots))
             spots[0] = row(1, 1, 1, 0)
-            self.refused("NoSpots", is_wide, spots)
+            self.refused("NoSpots", spot_rises, spots, plane)
+            self.refused("NoSpots", plane_cost, spots, row(1, 3), plane)
             self.assertIs(is_spots(spots), False)
 
     def test_points_laid_twice_are_the_askers_own(self):
