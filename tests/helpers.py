@@ -32,6 +32,15 @@ def pts(*rows):
     return [row(*(one if len(one) == 3 else one + (1,))) for one in rows]
 
 
+def qs(*numbers):
+    return [q(number) for number in numbers]
+
+
+def moved(signs, k, by):
+    """The signs with one of them more by so much."""
+    return signs[:k] + [q(num(signs[k]) + num(by))] + signs[k + 1:]
+
+
 def error(name):
     return getattr(importlib.import_module("signlines.errors"), name)
 

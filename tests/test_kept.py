@@ -10,7 +10,7 @@ from signlines.kept import Kept
 from signlines.lines import cost
 from signlines.roads import is_road
 from tests import model_roads, samples, wrongs
-from tests.helpers import Case, pts, q, row, spoilt
+from tests.helpers import Case, pts, row, spoilt
 
 PRICES = row(1, 2)
 SOME = pts((0, 0), (1, "1/2", 2), (3, -1, "1/3"), (1, 5))

@@ -10,19 +10,10 @@ from signlines.corners import heights
 from signlines.lines import stands
 from signlines.pinned import pinned_fit, pinned_signs, pinned_slopes
 from signlines.points import stretched, tilted
-from tests import model, model_moving, samples, wrongs
-from tests.helpers import Case, num, pts, q, row, spoilt
+from tests import model_moving, samples, wrongs
+from tests.helpers import Case, moved, num, pts, q, qs, row, spoilt
 
 LITTLE = q(1, 10 ** 40)
-
-
-def qs(*numbers):
-    return [q(number) for number in numbers]
-
-
-def moved(signs, k, by):
-    """The signs with one of them more by so much."""
-    return signs[:k] + [q(num(signs[k]) + num(by))] + signs[k + 1:]
 
 
 def is_pinned_spread(points, place):

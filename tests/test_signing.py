@@ -13,14 +13,10 @@ from signlines.points import stretched, tilted
 from signlines.signing import best_signs, signs_of
 from signlines.signs import fit, worth
 from tests import model, model_moving, samples, wrongs
-from tests.helpers import Case, num, pts, q, row, spoilt
+from tests.helpers import Case, num, pts, q, qs, row, spoilt
 
 LITTLE = Fraction(1, 10 ** 40)
 CROSS = pts((0, 0), (0, 2), (1, 0), (1, 2))
-
-
-def qs(*numbers):
-    return [q(number) for number in numbers]
 
 
 def near(line, chance):

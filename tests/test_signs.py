@@ -9,18 +9,9 @@ from signlines.lines import cost, mixed
 from signlines.pairs import pair_lines
 from signlines.signs import are_signs, fit, is_balanced, worth
 from tests import model, samples, wrongs
-from tests.helpers import Case, num, pts, q, row
+from tests.helpers import Case, moved, num, pts, q, qs, row
 
 LITTLE = q(1, 10 ** 40)
-
-
-def qs(*numbers):
-    return [q(number) for number in numbers]
-
-
-def moved(signs, k, by):
-    """The signs with one of them more by so much."""
-    return signs[:k] + [q(num(signs[k]) + num(by))] + signs[k + 1:]
 
 
 def fitting(points, prices):

@@ -12,15 +12,11 @@ from signlines.points import stretched, tilted
 from signlines.sums import span, sums
 from signlines.turning import between, corners_at, turns
 from tests import model, samples, wrongs
-from tests.helpers import Case, num, pts, q, row, spoilt
+from tests.helpers import Case, num, pts, q, qs, row, spoilt
 from tests.model_moving import at, least_at, moving, priced_sums
 
 SQUARE = pts((0, 0), (0, 2), (1, 0), (1, 2))
 LITTLE = Fraction(1, 10 ** 40)
-
-
-def qs(*numbers):
-    return [q(number) for number in numbers]
 
 
 def short_between(low, high, part):
