@@ -1,25 +1,16 @@
 """Best lines: those that cost least."""
 
-from signlines.lines import cost_of
+from signlines.lines import cost_of, priced
+from signlines.orders import cheapest_of
 from signlines.pairs import pair_lines_of
 from signlines.points import is_line, need_points, need_prices, need_spread
-from signlines.reckon import is_less
 
 
 def cheapest(points, prices):
     """The least cost, and the pair lines that come to it, sorted; of spread points."""
     # The pair lines are enough: over a cell between them the cost goes straight,
     # and among spread points it grows without end far away.
-    least = None
-    found = []
-    for line in pair_lines_of(points):
-        here = cost_of(points, prices, line)
-        if least is None or is_less(here, least):
-            least = here
-            found = [line]
-        elif here == least:
-            found.append(line)
-    return (least, found)
+    return cheapest_of(priced(points, prices, pair_lines_of(points)))
 
 
 def need_priced(points, prices):

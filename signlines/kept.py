@@ -1,7 +1,7 @@
 """Kept points, and a best line that follows their changes by exchanges."""
 
-from signlines.errors import NoDeed, NoNumber, NoPoints
-from signlines.points import MOST_POINTS, has_two_x, is_number, need_point, need_prices
+from signlines.errors import NoDeed, NoPoints
+from signlines.points import MOST_POINTS, has_two_x, need_number, need_point, need_prices
 from signlines.roads import priced_pair_lines, road_from
 
 
@@ -14,6 +14,29 @@ def road_of(points, prices, line):
     if found is None:
         found = road_from(points, rows, rows[0][1])
     return found
+
+
+def with_one_more(points, x, y, weight):
+    """A new list of the points, one more behind all others."""
+    point = (x, y, weight)
+    need_point(point)
+    if len(points) == MOST_POINTS:
+        raise NoPoints("there are twelve points at most")
+    return points + [point]
+
+
+def without(points, k):
+    """A new list of the points but that of the number."""
+    need_number(k, len(points))
+    return points[:k] + points[k + 1:]
+
+
+def with_other(points, k, x, y, weight):
+    """A new list of the points, another one in the place of that of the number."""
+    need_number(k, len(points))
+    point = (x, y, weight)
+    need_point(point)
+    return points[:k] + [point] + points[k + 1:]
 
 
 class Kept:
@@ -29,23 +52,15 @@ class Kept:
 
     def put(self, x, y, weight):
         """One more point behind all others; a road is told."""
-        point = (x, y, weight)
-        need_point(point)
-        if len(self._points) == MOST_POINTS:
-            raise NoPoints("there are twelve points at most")
-        return self._change(self._points + [point])
+        return self._change(with_one_more(self._points, x, y, weight))
 
     def take(self, k):
         """The point of that number out, those behind it down by one; a road is told."""
-        self._need_number(k)
-        return self._change(self._points[:k] + self._points[k + 1:])
+        return self._change(without(self._points, k))
 
     def move(self, k, x, y, weight):
         """Another point in the place of that number's; a road is told."""
-        self._need_number(k)
-        point = (x, y, weight)
-        need_point(point)
-        return self._change(self._points[:k] + [point] + self._points[k + 1:])
+        return self._change(with_other(self._points, k, x, y, weight))
 
     def undo(self):
         """Points and line as they were ahead of the last change that isn't undone yet."""
@@ -60,10 +75,6 @@ class Kept:
     def line(self):
         """The line that the last road led to, or None."""
         return self._line
-
-    def _need_number(self, k):
-        if not is_number(k, len(self._points)):
-            raise NoNumber("a point's number is a whole number from 0 on, less than there are points")
 
     def _change(self, points):
         found = road_of(points, self._prices, self._line)

@@ -47,6 +47,11 @@ def cost_of(points, prices, line):
     return weighed(sums_of(points, line), prices)
 
 
+def priced(points, prices, lines):
+    """A list of (cost, line), in the order of the lines."""
+    return [(cost_of(points, prices, line), line) for line in lines]
+
+
 def stands(line, x):
     """Where the line stands at x."""
     need_line(line)

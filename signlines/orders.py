@@ -1,6 +1,6 @@
-"""Fractions, and rows of them (lines, planes), in their order as numbers."""
+"""Fractions, and rows of them (lines, planes), in their order as numbers, and what costs least."""
 
-from signlines.reckon import is_less
+from signlines.reckon import ends, is_less
 
 
 def goes_ahead(one, other):
@@ -44,3 +44,9 @@ def rising(numbers):
             at -= 1
         found.insert(at, k)
     return found
+
+
+def cheapest_of(rows):
+    """Of a list of (cost, thing), one or more: the least cost, and the things that come to it, in their order."""
+    least = ends([cost for cost, _ in rows])[0]
+    return (least, [thing for cost, thing in rows if cost == least])

@@ -2,12 +2,13 @@
 
 from signlines.best import need_priced
 from signlines.errors import NoPlace, NoSpread
-from signlines.fillings import free_ends, mixed_to
+from signlines.fillings import mixed_to
 from signlines.fractions import are_fractions, is_row, need_fraction
 from signlines.lines import cost_of
+from signlines.orders import cheapest_of
 from signlines.pairs import line_at, slope_to
 from signlines.reckon import NOUGHT, ends, subtracted, weighed
-from signlines.signs import lie_within, reach_ends
+from signlines.signs import free_ends, lie_between
 
 
 def need_place(thing):
@@ -27,9 +28,8 @@ def least_slopes(points, prices, place):
     """The least and the greatest slope of the pinned lines that cost least."""
     # From slope to slope the cost bends only where a pinned line goes through a point.
     found = [slope_to(place, point) for point in points if point[0] != place[0]]
-    costs = [cost_of(points, prices, line_at(place, slope)) for slope in found]
-    least = ends(costs)[0]
-    return ends([slope for slope, one in zip(found, costs) if one == least])
+    rows = [(cost_of(points, prices, line_at(place, slope)), slope) for slope in found]
+    return ends(cheapest_of(rows)[1])
 
 
 def distances(points, place):
@@ -62,8 +62,6 @@ def pinned_fit(points, prices, place, slope, thing):
     need_priced(points, prices)
     need_place(place)
     need_fraction(slope)
-    if not are_fractions(thing, len(points)) or not lie_within(points, prices, thing):
+    if not are_fractions(thing, len(points)) or weighed(thing, distances(points, place)) != NOUGHT:
         return False
-    if weighed(thing, distances(points, place)) != NOUGHT:
-        return False
-    return reach_ends(points, prices, line_at(place, slope), thing)
+    return lie_between(thing, free_ends(points, prices, line_at(place, slope)))

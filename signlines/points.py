@@ -1,6 +1,6 @@
 """Points, prices and lines: what they are, and points that are moved."""
 
-from signlines.errors import NoLine, NoPoints, NoPrices, NoSpread
+from signlines.errors import NoLine, NoNumber, NoPoints, NoPrices, NoSpread
 from signlines.fractions import is_row, is_whole, need_factor
 from signlines.reckon import added, multiplied
 
@@ -47,6 +47,11 @@ def need_points(thing):
 def need_prices(thing):
     if not is_prices(thing):
         raise NoPrices("prices are a tuple of two fractions above 0")
+
+
+def need_number(thing, many):
+    if not is_number(thing, many):
+        raise NoNumber("a point's number is a whole number from 0 on, less than there are points")
 
 
 def need_line(thing):

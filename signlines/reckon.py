@@ -38,6 +38,11 @@ def negated(one):
     return (-one[0], one[1])
 
 
+def size_of(one):
+    """How far it is from 0."""
+    return (abs(one[0]), one[1])
+
+
 def is_less(one, other):
     """Whether the first is less."""
     return one[0] * other[1] < other[0] * one[1]
@@ -54,6 +59,11 @@ def total(numbers):
 def weighed(numbers, others):
     """Each one times the other list's one at its place, all together."""
     return total([multiplied(one, other) for one, other in zip(numbers, others)])
+
+
+def crossed(one, other):
+    """Of two pairs: 0 where they lie on one straight line with (0, 0), else above 0 on one side, below on the other."""
+    return subtracted(multiplied(one[0], other[1]), multiplied(one[1], other[0]))
 
 
 def lesser(one, other):

@@ -2,7 +2,7 @@
 
 from signlines.best import need_priced
 from signlines.errors import NoPair
-from signlines.lines import cost_of, rise_of
+from signlines.lines import priced, rise_of
 from signlines.pairs import pair_lines_of
 from signlines.points import has_two_x, is_line, need_line, need_spread
 from signlines.reckon import NOUGHT, is_less
@@ -10,7 +10,7 @@ from signlines.reckon import NOUGHT, is_less
 
 def priced_pair_lines(points, prices):
     """A list of (cost, line): all pair lines, sorted, with their costs."""
-    return [(cost_of(points, prices, line), line) for line in pair_lines_of(points)]
+    return priced(points, prices, pair_lines_of(points))
 
 
 def share_a_point(points, one, other):

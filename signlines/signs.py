@@ -7,49 +7,52 @@ from signlines.points import need_line, need_points, need_prices
 from signlines.reckon import NOUGHT, is_less, multiplied, negated, total, weighed
 
 
-def ends_at(point, prices):
-    """The least and the greatest sign that a point may have."""
+def ends_at(weight, prices, rise):
+    """The least and the greatest sign that fits, at a point or spot of that weight and rise."""
     up, down = prices
-    return (negated(multiplied(down, point[2])), multiplied(up, point[2]))
+    low = negated(multiplied(down, weight))
+    high = multiplied(up, weight)
+    if rise[0] > 0:
+        return (high, high)
+    if rise[0] < 0:
+        return (low, low)
+    return (low, high)
 
 
-def lie_within(points, prices, signs):
-    """Whether as many fractions as points lie within their ends."""
-    for point, sign in zip(points, signs):
-        low, high = ends_at(point, prices)
+def own_ends(points, prices):
+    """A list of (low, high): between these lies each point's sign."""
+    return [ends_at(point[2], prices, NOUGHT) for point in points]
+
+
+def free_ends(points, prices, line):
+    """A list of (low, high): between these lies each point's sign in signs that fit the line."""
+    return [ends_at(point[2], prices, rise_of(point, line)) for point in points]
+
+
+def lie_between(signs, ends):
+    """Whether each sign lies between its (low, high)."""
+    for sign, (low, high) in zip(signs, ends):
         if is_less(sign, low) or is_less(high, sign):
             return False
     return True
 
 
-def balance(points, signs):
-    """Whether as many fractions as points come to 0, also times the x."""
-    if total(signs) != NOUGHT:
-        return False
-    return weighed(signs, [point[0] for point in points]) == NOUGHT
-
-
-def reach_ends(points, prices, line, signs):
-    """Whether the signs are at their own ends at each point off the line."""
-    for point, sign in zip(points, signs):
-        low, high = ends_at(point, prices)
-        rise = rise_of(point, line)
-        if rise[0] > 0 and sign != high or rise[0] < 0 and sign != low:
-            return False
-    return True
+def have_moment(points, signs, moment):
+    """Whether as many fractions as points come to 0, and times the x to the moment."""
+    return total(signs) == NOUGHT and weighed(signs, [point[0] for point in points]) == moment
 
 
 def are_signs(points, prices, thing):
     """Whether it is a list of signs at the prices, one for each point."""
     need_points(points)
     need_prices(prices)
-    return are_fractions(thing, len(points)) and lie_within(points, prices, thing)
+    return are_fractions(thing, len(points)) and lie_between(thing, own_ends(points, prices))
 
 
 def is_balanced(points, thing):
     """Whether it is a list of as many fractions as points, and balanced."""
     need_points(points)
-    return are_fractions(thing, len(points)) and balance(points, thing)
+    return are_fractions(thing, len(points)) and have_moment(points, thing, NOUGHT)
 
 
 def fit(points, prices, line, thing):
@@ -57,9 +60,9 @@ def fit(points, prices, line, thing):
     need_points(points)
     need_prices(prices)
     need_line(line)
-    if not are_fractions(thing, len(points)) or not lie_within(points, prices, thing):
+    if not are_fractions(thing, len(points)) or not have_moment(points, thing, NOUGHT):
         return False
-    return balance(points, thing) and reach_ends(points, prices, line, thing)
+    return lie_between(thing, free_ends(points, prices, line))
 
 
 def worth(points, signs):

@@ -2,10 +2,10 @@
 
 from itertools import combinations
 
-from signlines.errors import NoFraction, NoPlane, NoPoints, NoSpots
+from signlines.errors import NoFraction, NoPlane, NoPoints, NoSpots, NoSpread
 from signlines.fractions import is_row, need_fraction
 from signlines.points import need_points, need_prices
-from signlines.reckon import added, multiplied, negated, subtracted, total
+from signlines.reckon import NOUGHT, added, crossed, multiplied, negated, subtracted, total
 
 MOST_SPOTS = 8
 MOST_LAID = 4
@@ -38,19 +38,25 @@ def need_plane(thing):
         raise NoPlane("a plane is a tuple of three fractions, its height, along and across")
 
 
-def are_in_line(one, other, third):
-    """Whether the places of three spots are on one straight line."""
-    here = multiplied(subtracted(other[0], one[0]), subtracted(third[1], one[1]))
-    there = multiplied(subtracted(third[0], one[0]), subtracted(other[1], one[1]))
-    return here == there
+def turned(one, other, third):
+    """Twice the area between three places, below 0 where they go round the other way; 0 on one straight line."""
+    here = (subtracted(other[0], one[0]), subtracted(other[1], one[1]))
+    there = (subtracted(third[0], one[0]), subtracted(third[1], one[1]))
+    return crossed(here, there)
 
 
 def are_wide(spots):
     """Whether the places of three spots, known to be such, are not on one straight line."""
     for one, other, third in combinations(spots, 3):
-        if not are_in_line(one, other, third):
+        if turned(one, other, third) != NOUGHT:
             return True
     return False
+
+
+def need_wide(spots):
+    """Refuses spots, known to be such, whose places are on one straight line."""
+    if not are_wide(spots):
+        raise NoSpread("three spots whose places are not on one straight line belong here")
 
 
 def is_wide(spots):

@@ -43,7 +43,7 @@ def text_of(one):
     return text
 
 
-def number_in(text):
+def in_any_terms(text):
     """The fraction that a text tells, in whatever terms and with noughts ahead, or None."""
     above, stroke, beneath = text.partition("/")
     if stroke == "":
@@ -58,6 +58,21 @@ def number_in(text):
     return made(-top if plain != above else top, bottom)
 
 
+def number_in(text):
+    """The number that is written so, in figures without noughts ahead, or None."""
+    if not are_figures(text) or len(text) > 1 and text[0] == "0":
+        return None
+    return number_of(text)
+
+
+def fraction_in(text):
+    """The fraction that is written so, and in no other way, or None."""
+    found = in_any_terms(text)
+    if found is None or text_of(found) != text:
+        return None
+    return found
+
+
 def show_fraction(one):
     """The fraction as a text."""
     need_fraction(one)
@@ -66,9 +81,7 @@ def show_fraction(one):
 
 def read_fraction(text):
     """The fraction that is written so, and in no other way."""
-    found = None
-    if isinstance(text, str):
-        found = number_in(text)
-    if found is None or text_of(found) != text:
+    found = fraction_in(text) if isinstance(text, str) else None
+    if found is None:
         raise NoText("a fraction is written as its top and, where the bottom isn't 1, a stroke and the bottom")
     return found

@@ -5,13 +5,7 @@ from signlines.lines import rise_of
 from signlines.orders import sorted_once
 from signlines.pairs import line_at, pair_lines_of, slope_to
 from signlines.points import need_line, need_points, need_spread
-from signlines.reckon import NOUGHT, added, divided, ends, greater, multiplied, negated, subtracted
-
-
-def distance_of(point, line):
-    """How far a point is above or beneath the line."""
-    rise = rise_of(point, line)
-    return negated(rise) if rise[0] < 0 else rise
+from signlines.reckon import NOUGHT, added, divided, ends, greater, multiplied, size_of, subtracted
 
 
 def place_off(points, row, least):
@@ -41,7 +35,7 @@ def width(points, line):
     need_line(line)
     found = NOUGHT
     for point in points:
-        found = greater(found, multiplied(point[2], distance_of(point, line)))
+        found = greater(found, multiplied(point[2], size_of(rise_of(point, line))))
     return found
 
 

@@ -32,6 +32,11 @@ def pts(*rows):
     return [row(*(one if len(one) == 3 else one + (1,))) for one in rows]
 
 
+def sps(*rows):
+    """Spots from rows of numbers; a row of three has the weight 1."""
+    return [row(*(one if len(one) == 4 else one + (1,))) for one in rows]
+
+
 def qs(*numbers):
     return [q(number) for number in numbers]
 

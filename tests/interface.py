@@ -1,4 +1,4 @@
-"""The interface as far as it has landed: each function, what it is handed, how it refuses."""
+"""The interface: each function, what it is handed, how it refuses."""
 
 import importlib
 
@@ -7,6 +7,14 @@ from tests.helpers import pts, q, row
 
 POINTS = pts((0, 0), (1, "1/2", 2), (3, -1, "1/3"))
 COLUMN = pts((2, 0), (2, 1, 3), (2, "-1/2"))
+# What is handed in is not spread: points of one x, spots on one straight line.
+NOT_SPREAD = {
+    "points": [COLUMN, pts((1, 1)), pts((0, 0), (0, 0)), pts((3, 1), (3, 2)) * 6],
+    "spots": [
+        [row(0, 0, 1, 1)], [row(0, 0, 1, 1), row(1, 5, 2, 1)], [row(k, 3 - 2 * k, k * k, 1) for k in range(8)],
+        [row(2, k, -k, 1) for k in range(5)], [row(k % 2, 1, k, 2) for k in range(6)],
+    ],
+}
 SPOTS = [row(0, 0, 1, 1), row(1, "1/2", 0, 2), row(3, -1, 2, "1/3"), row(1, 1, 1, 1)]
 
 # A kind of argument: what is right, all that is wrong, and the refusal of it.
@@ -33,11 +41,15 @@ KINDS = {
     "other fraction": (q(3), lambda: wrongs.wrong_fractions() + [q(-1, 2)], "NoFraction"),
     "text": ("-3/2", wrongs.wrong_texts, "NoText"),
     "pair line": (row(0, "1/2"), wrongs.wrong_lines, "NoLine"),
+    "point's number": (1, lambda: wrongs.wrong_numbers(3), "NoNumber"),
+    "bounds": ((None, q(1, 2)), wrongs.wrong_bounds, "NoBounds"),
+    "values": ([row(0, 1), row("1/2", 2), row(-1, "1/3")], wrongs.wrong_values, "NoValues"),
+    "directions": ([row(0, 1), row("1/2", 0), row(-1, "1/3")], wrongs.wrong_directions, "NoDirections"),
     "thing": (None, lambda: [], None),
     "number": (q(1, 2), lambda: [], None),
 }
 
-# Each function's module, its arguments' kinds in the order of the interface, and whether it asks for spread points.
+# Each function's module, its arguments' kinds in the order of the interface, and whether what is handed in first is to be spread.
 FUNCTIONS = {
     "fraction": ("fractions", ["whole", "divisor"], False),
     "plus": ("fractions", ["number", "number"], False),
@@ -73,6 +85,10 @@ FUNCTIONS = {
     "kind": ("corners", ["points", "prices"], True),
     "slopes": ("corners", ["points", "prices"], True),
     "heights": ("corners", ["points", "prices", "fraction"], True),
+    "shares_of": ("mixing", ["lines", "line"], False),
+    "range_of": ("ranges", ["points", "prices", "point's number"], True),
+    "held": ("ranges", ["points", "prices"], True),
+    "strict_signs": ("ranges", ["points", "prices"], True),
     "sums": ("sums", ["points", "line"], False),
     "span": ("sums", ["points", "line"], True),
     "turns": ("turning", ["points"], True),
@@ -81,14 +97,27 @@ FUNCTIONS = {
     "pinned_slopes": ("pinned", ["points", "prices", "place"], False),
     "pinned_signs": ("pinned", ["points", "prices", "place"], False),
     "pinned_fit": ("pinned", ["points", "prices", "place", "fraction", "thing"], False),
+    "bound_corners": ("bounded", ["points", "prices", "bounds"], True),
+    "bound_signs": ("bounded", ["points", "prices", "bounds"], True),
+    "bound_fit": ("bounded", ["points", "prices", "bounds", "line", "thing"], False),
+    "slope_cost": ("profiles", ["points", "prices", "fraction"], False),
+    "profile": ("profiles", ["points", "prices"], True),
     "is_spots": ("spots", ["thing"], False),
     "is_plane": ("spots", ["thing"], False),
     "is_wide": ("spots", ["any spots"], False),
     "laid_twice": ("spots", ["few points", "one fraction", "other fraction"], False),
     "spot_rises": ("spots", ["spots", "plane"], False),
     "plane_cost": ("spots", ["spots", "prices", "plane"], False),
+    "plane_corners": ("planes", ["spots", "prices"], True),
+    "least_plane_cost": ("planes", ["spots", "prices"], True),
+    "spot_signs": ("spotsigns", ["spots", "prices"], True),
+    "spot_fit": ("spotsigns", ["spots", "prices", "plane", "thing"], False),
     "alternation": ("alternation", ["points"], True),
     "comes_to": ("alternation", ["points", "thing"], False),
+    "is_values": ("rows", ["thing"], False),
+    "middles": ("rows", ["values", "prices"], False),
+    "midway": ("rows", ["values"], False),
+    "nearest_stripe": ("directions", ["points", "directions"], False),
     "show_fraction": ("texts", ["fraction"], False),
     "read_fraction": ("texts", ["text"], False),
     "signs_of": ("signing", ["points", "prices", "line"], True),

@@ -134,6 +134,30 @@ def long_place(chance):
     return (long_number(chance), long_number(chance))
 
 
+def bounds(chance, points):
+    """Bounds of slopes: none, one alone, both, alike ones, narrow ones, the slopes of pair lines."""
+    slopes = sorted(Fraction(*line_slope) for line_slope in slopes_of(points))
+    some = chance.choice(slopes) if slopes else Fraction(1, 2)
+    low, high = sorted([Fraction(*small(chance)), Fraction(*small(chance))])
+    narrow = Fraction(1, 10 ** 9)
+    return [
+        (None, None), (None, q(low)), (q(high), None), (q(low), q(high)), (q(low), q(low)), (q(some), q(some)),
+        (q(some), None), (None, q(some)), (q(some - 1), q(some)), (q(some + narrow), q(some + 2 * narrow)),
+        (q(high + 50), q(high + 51)), (q(low - 51), q(low - 50)), (q(-100), q(100)),
+    ]
+
+
+def slopes_of(points):
+    """The slopes of lines through two points of unlike x."""
+    rows = [(Fraction(*x), Fraction(*y)) for x, y, w in points]
+    return [q((b - y) / (a - x)) for x, y in rows for a, b in rows if x < a]
+
+
+def long_bounds(chance):
+    low, high = sorted([Fraction(*long_number(chance)), Fraction(*long_number(chance))])
+    return [(q(low), q(high)), (None, q(low)), (q(high), None), (q(low), q(low)), (None, None)]
+
+
 def thirty(chance):
     """Of up to thirty figures above, and below the stroke."""
     return q(chance.randint(-THIRTY, THIRTY), chance.randint(1, THIRTY))

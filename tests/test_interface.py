@@ -29,6 +29,10 @@ SOME_WRONG = {
     "few points": [None, [], (), pts((0, 0), (1, 1)) * 3, [row(1, 1)], pts((0, 0), (1, 1, 0))],
     "one fraction": [None, True, 1, (2, 4), (1, 0), [1, 2], q(3)],
     "other fraction": [None, True, 1, (2, 4), (1, 0), [1, 2]],
+    "point's number": [None, True, -1, 3, "0", [0]],
+    "bounds": [None, row(1, 0), row("1/2", "1/3"), (None,), [None, None], (None, 1)],
+    "values": [None, [], (), [row(1)], [row(1, 0)], [row(1, 1)] * 25, (row(1, 1),)],
+    "directions": [None, [], (), [row(1)], [row(0, 0)], [row(1, 1)] * 9, (row(1, 1),)],
     "text": [None, True, 1, q(1), "", "1/1", " 1", b"1"],
     "pair line": [None, row(1), row(1, 1, 1), list(row(1, 1)), ((2, 4), (1, 1))],
 }
@@ -100,12 +104,14 @@ class Refusals(Case):
                 if KINDS[kinds[0]][2] is not None and not (kinds[0] == "whole" and wrong == 5):
                     self.refused(refusal(kinds[0]), told_by(name), *[wrong] * len(kinds))
 
-    def test_points_of_one_x_are_refused_where_spread_ones_are_asked_for(self):
+    def test_points_of_one_x_and_spots_in_line_are_refused_where_spread_ones_are_asked_for(self):
         for name, (_, kinds, spread) in FUNCTIONS.items():
             if spread:
                 args = right_things(name)
-                for points in (interface.COLUMN, pts((1, 1)), pts((0, 0), (0, 0)), pts((3, 1), (3, 2)) * 6):
-                    args[0] = points
+                for one in interface.NOT_SPREAD[kinds[0]]:
+                    args[0] = one
+                    if "point's number" in kinds:
+                        args[kinds.index("point's number")] = 0
                     self.refused("NoSpread", told_by(name), *args)
 
     def test_no_spread_goes_behind_all_other_refusals(self):
@@ -114,13 +120,13 @@ class Refusals(Case):
                 if spread and at > 0:
                     for wrong in SOME_WRONG.get(kind, []):
                         args = right_things(name)
-                        args[0], args[at] = interface.COLUMN, wrong
+                        args[0], args[at] = interface.NOT_SPREAD[kinds[0]][0], wrong
                         self.refused(refusal(kind), told_by(name), *args)
 
     def test_no_thing_is_too_odd_to_be_told_none(self):
         itself = []
         itself.append(itself)
-        for name in ("is_fraction", "is_points", "is_prices", "is_line", "is_spots", "is_plane"):
+        for name in ("is_fraction", "is_points", "is_prices", "is_line", "is_spots", "is_plane", "is_values"):
             for thing in wrong_things("points") + [itself, (itself, itself), Case, len]:
                 if name != "is_plane" or thing != row(0, 0, 1):
                     self.assertIs(told_by(name)(thing), False)

@@ -14,7 +14,6 @@ from tests.helpers import Case, pts, row, spoilt
 
 PRICES = row(1, 2)
 SOME = pts((0, 0), (1, "1/2", 2), (3, -1, "1/3"), (1, 5))
-NO_NUMBERS = [None, True, False, -1, -2, -5, 10 ** 60, "0", "1", b"0", "", (0,), [0], [], {}, (0, 1), (1, 1), object()]
 
 
 def kept_with(points, prices=PRICES):
@@ -339,7 +338,7 @@ class Refusals(Follows):
         self.refused("NoDeed", kept.undo)
 
     def test_no_number(self):
-        for wrong in NO_NUMBERS + [4, 5, 12, -4]:
+        for wrong in wrongs.NO_NUMBERS + [4, 5, 12, -4]:
             self.refused("NoNumber", self.kept.take, wrong)
             self.refused("NoNumber", self.kept.move, wrong, *row(1, 1, 1))
             self.refused("NoNumber", self.kept.move, wrong, *row(1, 1, 0))
@@ -351,7 +350,7 @@ class Refusals(Follows):
 
     def test_no_number_where_no_points_are(self):
         kept = Kept(PRICES)
-        for wrong in NO_NUMBERS + [0, 1]:
+        for wrong in wrongs.NO_NUMBERS + [0, 1]:
             self.refused("NoNumber", kept.take, wrong)
             self.refused("NoNumber", kept.move, wrong, *row(1, 1, 1))
             self.refused("NoNumber", kept.move, wrong, *row(1, 1, 0))

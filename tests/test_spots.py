@@ -3,39 +3,15 @@
 import copy
 import random
 import unittest
-from itertools import combinations
 
 from signlines.lines import cost, rises
 from signlines.spots import is_plane, is_spots, is_wide, laid_twice, plane_cost, spot_rises
-from tests import model, samples, wrongs
-from tests.helpers import Case, num, pts, q, row, spoilt
-
-
-def sps(*rows):
-    """Spots from rows of numbers; a row of three has the weight 1."""
-    return [row(*(one if len(one) == 4 else one + (1,))) for one in rows]
+from tests import model, model_spots, samples, wrongs
+from tests.helpers import Case, num, pts, q, row, spoilt, sps
 
 
 def at_places(*places):
     return sps(*[(x, y, k) for k, (x, y) in enumerate(places)])
-
-
-def model_rises(spots, plane):
-    height, along, across = model.numbers([plane])[0]
-    return [z - (height + along * x + across * y) for x, y, z, w in model.numbers(spots)]
-
-
-def model_cost(spots, prices, plane):
-    up, down = num(prices[0]), num(prices[1])
-    weights = [num(spot[3]) for spot in spots]
-    return sum(w * (up * rise if rise > 0 else -down * rise) for w, rise in zip(weights, model_rises(spots, plane)))
-
-
-def model_wide(spots):
-    for (x, y, _, _), (a, b, _, _), (c, d, _, _) in combinations(model.numbers(spots), 3):
-        if (a - x) * (d - y) != (c - x) * (b - y):
-            return True
-    return False
 
 
 class WhatTheyAre(Case):
@@ -107,7 +83,7 @@ class Wide(Case):
 
     def test_any(self):
         for spots in samples.all_spots(1802, 4):
-            self.told_truth(model_wide(spots), is_wide, spots)
+            self.told_truth(model_spots.is_wide(spots), is_wide, spots)
 
     def test_a_very_little_off(self):
         little = q(1, samples.THIRTY)
@@ -171,7 +147,7 @@ class Rises(Case):
         chance = random.Random(1811)
         for spots in samples.all_spots(1812):
             for plane in (samples.plane(chance), tuple(samples.thirty(chance) for _ in range(3))):
-                wanted = [q(rise) for rise in model_rises(spots, plane)]
+                wanted = [q(rise) for rise in model_spots.rises(spots, plane)]
                 self.assertEqual(self.asked(spot_rises, spots, plane), wanted)
 
 
@@ -194,7 +170,7 @@ class Costs(Case):
         for spots in samples.all_spots(1814):
             for plane in (samples.plane(chance), tuple(samples.thirty(chance) for _ in range(3))):
                 prices = samples.some_prices(chance)
-                self.assertEqual(self.asked(plane_cost, spots, prices, plane), q(model_cost(spots, prices, plane)))
+                self.assertEqual(self.asked(plane_cost, spots, prices, plane), q(model_spots.cost(spots, prices, plane)))
 
     def test_long_prices(self):
         chance = random.Random(1815)
@@ -202,7 +178,7 @@ class Costs(Case):
             spots = samples.long_spots(chance, many)
             plane = tuple(samples.thirty(chance) for _ in range(3))
             prices = (q(samples.THIRTY, 7), q(5, samples.THIRTY - 1))
-            self.assertEqual(self.asked(plane_cost, spots, prices, plane), q(model_cost(spots, prices, plane)))
+            self.assertEqual(self.asked(plane_cost, spots, prices, plane), q(model_spots.cost(spots, prices, plane)))
 
     def test_refusals_in_their_order(self):
         for wrong in wrongs.wrong_planes():
@@ -222,9 +198,9 @@ class InItsPlace(Case):
             self.assertEqual(told, spot_rises(copy.deepcopy(other), plane))
             spoilt(told)
             spots[len(spots) // 2] = row(7, 8, 9, "1/2")
-            self.assertEqual(spot_rises(spots, plane), [q(rise) for rise in model_rises(spots, plane)])
-            self.assertEqual(plane_cost(spots, row(1, 3), plane), q(model_cost(spots, row(1, 3), plane)))
-            self.assertIs(is_wide(spots), model_wide(spots))
+            self.assertEqual(spot_rises(spots, plane), [q(rise) for rise in model_spots.rises(spots, plane)])
+            self.assertEqual(plane_cost(spots, row(1, 3), plane), q(model_spots.cost(spots, row(1, 3), plane)))
+            self.assertIs(is_wide(spots), model_spots.is_wide(spots))
             spots[0] = row(1, 1, 1, 0)
             self.refused("NoSpots", spot_rises, spots, plane)
             self.refused("NoSpots", plane_cost, spots, row(1, 3), plane)

@@ -16,6 +16,8 @@ NOT_ABOVE_NOUGHT = [(0, 1), (-1, 1), (-1, 2), (-SIXTY, 7)]
 # Of no kind at all, wherever something is asked for.
 NOTHINGS = [None, True, False, 0, 7, "", "text", "1 2 3", b"12", {}, {1: 2}, set(), range(3), object(), list]
 
+NO_NUMBERS = [None, True, False, -1, -2, -5, 10 ** 60, "0", "1", b"0", "", (0,), [0], [], {}, (0, 1), (1, 1), object()]
+
 
 def with_part(whole, at, part):
     """The same list or tuple, with another part at one place."""
@@ -153,3 +155,71 @@ def wrong_texts():
     """What is no text of a fraction."""
     nothings = [one for one in NOTHINGS if not isinstance(one, str)]
     return nothings + NO_TEXTS + [q(1), q(-3, 2), [], (), ["1"], ("1",), ["1", "2"], b"1", b"-3/2", b"", {"1": 2}]
+
+
+def wrong_numbers(many):
+    """What is no number of so many points."""
+    return NO_NUMBERS + [many, many + 1, 12, -many, 10 ** 30]
+
+
+def wrong_bounds():
+    """What are no bounds: wrong parts, and a low end above the high one."""
+    right = row("-1/2", 3)
+    found = [wrong for wrong in wrong_rows(right) if wrong not in ((None, right[1]), (right[0], None))]
+    found += [(None,), (None, None, None), [None, None], (None, True), (False, None), (None, 1), (0, None), (None, "1")]
+    found += [(None, (2, 4)), ((0, 2), None), ((None, None), (None, None)), "None", (None, [1, 2]), (None, ())]
+    found += [row(3, "-1/2"), row("1/2", "1/3"), row("-1/3", "-1/2"), row(1, 0), row(0, "-1/7"), row("3/2", "4/3")]
+    return found + [(q(1, SIXTY), q(0)), (q(1), q(SIXTY - 1, SIXTY)), (q(10 - SIXTY), q(9 - SIXTY))]
+
+
+def wrong_value():
+    right = row("-1/2", 3)
+    return wrong_rows(right) + [with_part(right, 1, part) for part in NOT_ABOVE_NOUGHT]
+
+
+def wrong_values():
+    """What is no list of one to twenty-four values."""
+    return wrong_lists([row(0, 1), row("1/2", 2), row(-1, "1/3")], wrong_value(), 24)
+
+
+def wrong_directions():
+    """What is no list of one to eight directions."""
+    return wrong_lists([row(0, 1), row("1/2", 0), row(-1, "1/3")], wrong_rows(row(1, "-1/2")) + [row(0, 0)], 8)
+
+
+def wrong_words():
+    """Texts that may stand for no fraction in a row of words."""
+    return NO_TEXTS + ["put", "none", "one", "X"]
+
+
+def wrong_counts():
+    """Texts that may stand for no point's number in a row of words."""
+    return NO_TEXTS + ["-1", "-12", "+0", "1/2", "-1/2", "0/1", "000", "012", "take", "K"]
+
+
+# Rows that a desk doesn't know; those in the middle have a blank or a line feed too many.
+NO_ROWS = [
+    "", "point", "Points", "POINTS", "put", "take", "move", "prices", "undo", "line", "none", "ok", "0", "1 2 3", "say",
+    "put 1", "put 1 2", "put 1 2 3 4", "take 0 1", "take 0 1 2 3", "move 0", "move 0 1 2", "move 0 1 2 3 4", "move 1 2",
+    "prices 1", "prices 1 2 3", "points 0", "best 1", "best best", "corners 0", "cost 1 1", "signs signs", "turns 1",
+    "width 0", "points points", "put put 1 2", "Put 1 2 3", "TAKE 0", "Take 0", "move0 1 2 3", "put1 2 3", "best;", "p",
+    " ", "  ", "\n", "\t", " points", "points ", "points  ", "\npoints", "points\n", "points\t", "\tpoints", "best ", " best",
+    " put 1 2 3", "put 1 2 3 ", "put  1 2 3", "put 1  2 3", "put 1 2  3", "put 1 2 3\n", "put\n1 2 3", "put 1\n2 3",
+    "put\t1 2 3", "put 1 2\t3", "take  0", "take 0 ", " take 0", "take 0\n", "take\n0", "take\t0", "move 0 1 2 3 ",
+    "move  0 1 2 3", "move 0  1 2 3", "move 0 1 2 3\n", "prices 1 2 ", "prices  1 2", "prices 1  2", "prices 1 2\n",
+    "signs ", "turns\n", " width", "cost ", "corners\n", "corners  ", "points\nbest", "points; best", "best\x00", "b est",
+    "put 1, 2, 3", "put (1, 2, 3)", "put\u00a01 2 3", "put 1 2\u20093", "best\u00a0", "take\u00a00", "t\u0430ke 0", "prices 1;2",
+    "put 1.5 2 3", "put 1 2 x", "take a", "take K", "move 0 1 2 1.5", "prices 1 one", "prices 1/1 2", "prices 1 2/4",
+]
+
+
+def wrong_desk_rows():
+    """What is no row of a desk: no text, no known word, another count of words, no number where one belongs."""
+    found = [one for one in NOTHINGS if not isinstance(one, str)] + NO_ROWS
+    found += [b"points", b"put 1 2 3", ["points"], ("points",), ("put", "1", "2", "3"), ["put", 1, 2, 3], q(1), [], ()]
+    for wrong in wrong_words():
+        found += [f"put {wrong} 2 3", f"put 1 {wrong} 3", f"put 1 2 {wrong}", f"prices {wrong} 2", f"prices 1 {wrong}"]
+        found += [f"move 0 {wrong} 2 3", f"move 0 1 {wrong} 3", f"move 0 1 2 {wrong}"]
+    for wrong in wrong_counts():
+        found += [f"take {wrong}", f"move {wrong} 1 2 3"]
+    return found
