@@ -1,7 +1,7 @@
 """Directions: along which of them some stripe is nearest to the points."""
 
 from signlines.errors import NoDirections
-from signlines.fractions import is_row
+from signlines.fractions import are_rows
 from signlines.points import need_points
 from signlines.reckon import NOUGHT, ONE, added, divided, ends, is_less, multiplied
 from signlines.rows import cheapest_numbers
@@ -9,16 +9,9 @@ from signlines.rows import cheapest_numbers
 MOST_DIRECTIONS = 8
 
 
-def is_direction(thing):
-    """Whether it is a tuple (a, b), not both 0."""
-    return is_row(thing, 2) and thing != (NOUGHT, NOUGHT)
-
-
 def need_directions(thing):
-    if not isinstance(thing, list) or not 1 <= len(thing) <= MOST_DIRECTIONS:
-        raise NoDirections("directions are a list of one to eight")
-    if not all(is_direction(part) for part in thing):
-        raise NoDirections("a direction is a tuple of two fractions, not both 0")
+    if not are_rows(thing, MOST_DIRECTIONS, 2) or (NOUGHT, NOUGHT) in thing:
+        raise NoDirections("directions are a list of one to eight tuples of two fractions, not both 0")
 
 
 def best_stripes(points, direction):

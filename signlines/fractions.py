@@ -29,6 +29,18 @@ def is_row(thing, many):
     return isinstance(thing, tuple) and len(thing) == many and all(is_fraction(part) for part in thing)
 
 
+def are_rows(thing, most, many):
+    """Whether it is a list, of one to so many, of tuples of so many fractions."""
+    if not isinstance(thing, list) or not 1 <= len(thing) <= most:
+        return False
+    return all(is_row(part, many) for part in thing)
+
+
+def are_weighed(thing, most, many):
+    """Whether it is a list, of one to so many, of tuples of so many fractions, the last one, a weight, above 0."""
+    return are_rows(thing, most, many) and all(row[-1][0] > 0 for row in thing)
+
+
 def need_fraction(thing):
     if not is_fraction(thing):
         raise NoFraction("a fraction is a tuple of a top and a bottom in lowest terms, the bottom from 1 on")

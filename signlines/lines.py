@@ -1,8 +1,8 @@
 """Lines: where they stand, what lies above and beneath, what they cost."""
 
 from signlines.errors import NoLines, NoShares
-from signlines.fractions import are_fractions, need_factor, need_fraction
-from signlines.points import is_line, need_line, need_points, need_prices, stand_at
+from signlines.fractions import are_fractions, are_rows, need_factor, need_fraction
+from signlines.points import need_line, need_points, need_prices, stand_at
 from signlines.reckon import NOUGHT, ONE, added, divided, multiplied, subtracted, total, weighed
 
 MOST_LINES = 30
@@ -10,10 +10,8 @@ MOST_LINES = 30
 
 def need_lines(thing):
     """Refuses what is no list of one to thirty lines."""
-    if not isinstance(thing, list) or not 1 <= len(thing) <= MOST_LINES:
-        raise NoLines("a list of one to thirty lines belongs here")
-    if not all(is_line(part) for part in thing):
-        raise NoLines("each of the lines is a tuple of a height and a slope")
+    if not are_rows(thing, MOST_LINES, 2):
+        raise NoLines("a list of one to thirty lines, each a tuple of a height and a slope, belongs here")
 
 
 def are_shares(thing, many):

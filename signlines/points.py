@@ -1,7 +1,7 @@
 """Points, prices and lines: what they are, and points that are moved."""
 
 from signlines.errors import NoLine, NoNumber, NoPoints, NoPrices, NoSpread
-from signlines.fractions import is_row, is_whole, need_factor
+from signlines.fractions import are_weighed, is_row, is_whole, need_factor
 from signlines.reckon import added, multiplied
 
 MOST_POINTS = 12
@@ -14,9 +14,7 @@ def is_point(thing):
 
 def is_points(thing):
     """Whether it is a list of one to twelve points."""
-    if not isinstance(thing, list) or not 1 <= len(thing) <= MOST_POINTS:
-        return False
-    return all(is_point(part) for part in thing)
+    return are_weighed(thing, MOST_POINTS, 3)
 
 
 def is_prices(thing):

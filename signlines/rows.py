@@ -3,7 +3,7 @@
 from itertools import combinations
 
 from signlines.errors import NoValues
-from signlines.fractions import is_row
+from signlines.fractions import are_weighed
 from signlines.lines import cost_of
 from signlines.orders import cheapest_of
 from signlines.points import need_prices
@@ -12,16 +12,9 @@ from signlines.reckon import NOUGHT, added, divided, ends, is_less, multiplied, 
 MOST_VALUES = 24
 
 
-def is_value(thing):
-    """Whether it is a tuple (value, weight), the weight above 0."""
-    return is_row(thing, 2) and thing[1][0] > 0
-
-
 def is_values(thing):
-    """Whether it is a list of one to twenty-four values."""
-    if not isinstance(thing, list) or not 1 <= len(thing) <= MOST_VALUES:
-        return False
-    return all(is_value(part) for part in thing)
+    """Whether it is a list of one to twenty-four tuples (value, weight), the weight above 0."""
+    return are_weighed(thing, MOST_VALUES, 2)
 
 
 def need_values(thing):

@@ -3,7 +3,7 @@
 from itertools import combinations
 
 from signlines.errors import NoFraction, NoPlane, NoPoints, NoSpots, NoSpread
-from signlines.fractions import is_row, need_fraction
+from signlines.fractions import are_weighed, is_row, need_fraction
 from signlines.points import need_points, need_prices
 from signlines.reckon import NOUGHT, added, crossed, multiplied, negated, subtracted, total
 
@@ -11,16 +11,9 @@ MOST_SPOTS = 8
 MOST_LAID = 4
 
 
-def is_spot(thing):
-    """Whether it is a tuple (x, y, z, weight), the weight above 0."""
-    return is_row(thing, 4) and thing[3][0] > 0
-
-
 def is_spots(thing):
-    """Whether it is a list of one to eight spots."""
-    if not isinstance(thing, list) or not 1 <= len(thing) <= MOST_SPOTS:
-        return False
-    return all(is_spot(part) for part in thing)
+    """Whether it is a list of one to eight tuples (x, y, z, weight), the weight above 0."""
+    return are_weighed(thing, MOST_SPOTS, 4)
 
 
 def is_plane(thing):

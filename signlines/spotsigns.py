@@ -52,7 +52,7 @@ def wide_threes(spots):
     return found
 
 
-def balance_spots(spots, signs):
+def are_balanced(spots, signs):
     """Whether as many fractions as spots come to 0, also times the x, and times the y."""
     moments = [total(signs), weighed(signs, [spot[0] for spot in spots]), weighed(signs, [spot[1] for spot in spots])]
     return all(moment == NOUGHT for moment in moments)
@@ -72,6 +72,6 @@ def spot_fit(spots, prices, plane, thing):
     need_spots(spots)
     need_prices(prices)
     need_plane(plane)
-    if not are_fractions(thing, len(spots)) or not balance_spots(spots, thing):
+    if not are_fractions(thing, len(spots)) or not are_balanced(spots, thing):
         return False
     return lie_between(thing, [ends_at(spot[3], prices, spot_rise(spot, plane)) for spot in spots])

@@ -92,3 +92,20 @@ class Case(TestCase):
         else:
             self.fail(f"{ask.__name__}{handed} told {told!r} instead of {name}")
         self.assertEqual(repr(args), handed, f"{ask.__name__} changed what it refused")
+
+
+class Changing(Case):
+    """What keeps points, followed by a plain list, self.points; put, take and move are the test's own."""
+
+    def some_change(self, chance, point, others):
+        """One change by chance, where it can be; of the others, the test's own methods, each without arguments."""
+        many = len(self.points)
+        deed = chance.choice(["put", "take", "move"] + others)
+        if deed == "put" and many < 12:
+            self.put(*point)
+        elif deed == "take" and many > 0:
+            self.take(chance.randrange(many))
+        elif deed == "move" and many > 0:
+            self.move(chance.randrange(many), *point)
+        elif deed in others:
+            getattr(self, deed)()

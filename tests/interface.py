@@ -49,7 +49,7 @@ KINDS = {
     "number": (q(1, 2), lambda: [], None),
 }
 
-# Each function's module, its arguments' kinds in the order of the interface, and whether what is handed in first is to be spread.
+# Each function's module, its arguments' kinds in the order of the interface, and whether the first is to be spread.
 FUNCTIONS = {
     "fraction": ("fractions", ["whole", "divisor"], False),
     "plus": ("fractions", ["number", "number"], False),

@@ -97,7 +97,7 @@ def grown(points, prices, k, by):
 
 
 def rate(points, prices, k, side):
-    """How much the least cost grows for each unit of a point's y, a little above (side 1) or beneath (-1) where it is."""
+    """How much the least cost grows for each unit of a point's y, a little above it (side 1) or beneath (-1)."""
     step = Fraction(side, 2 ** 20)
     while True:
         here, nearer = [grown(points, prices, k, by) / by for by in (step, step / 2 ** 20)]

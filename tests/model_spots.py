@@ -1,9 +1,10 @@
 """The document's words on spots and planes, reckoned anew by going through all threes of spots."""
 
+import random
 from itertools import combinations
 
-from tests import model
-from tests.helpers import num
+from tests import model, samples
+from tests.helpers import num, q
 
 
 def rises(spots, plane):
@@ -68,3 +69,19 @@ def fit(spots, prices, plane, signs):
 
 def worth(spots, signs):
     return sum(num(sign) * num(spot[2]) for sign, spot in zip(signs, spots))
+
+
+def mixed(planes, shares):
+    return tuple(q(sum(num(plane[k]) * num(share) for plane, share in zip(planes, shares))) for k in range(3))
+
+
+def beside(plane, k, by):
+    """The plane with one of its three fractions more by so much, a number."""
+    return tuple(q(num(part) + (by if at == k else 0)) for at, part in enumerate(plane))
+
+
+def wide_ones(seed, each=2):
+    """Wide spots of every make, with prices."""
+    chance = random.Random(seed)
+    lots = [spots for spots in samples.all_spots(seed + 1, each) if is_wide(spots)]
+    return [(spots, samples.some_prices(chance)) for spots in lots]

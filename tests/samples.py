@@ -163,6 +163,10 @@ def thirty(chance):
     return q(chance.randint(-THIRTY, THIRTY), chance.randint(1, THIRTY))
 
 
+def thirty_weight(chance):
+    return q(chance.randint(1, THIRTY), chance.randint(1, THIRTY))
+
+
 def spots(chance, many):
     return [(small(chance), small(chance), small(chance), weight(chance)) for _ in range(many)]
 

@@ -186,8 +186,7 @@ class Signs(Case):
 
     def test_any(self):
         told = [self.held_to(points, prices, bounds) for points, prices, bounds in bounded(1611, 2)]
-        for truth in (any(price == 0 for price in told), any(price > 0 for price in told), any(price < 0 for price in told)):
-            self.assertTrue(truth)
+        self.assertEqual({(price > 0) - (price < 0) for price in told}, {-1, 0, 1})
 
     def test_points_of_one_x(self):
         for points, prices, bounds in in_columns(1612):
@@ -227,25 +226,26 @@ class Fit(Case):
 
     def test_the_price_goes_with_the_side(self):
         line = row(0, 1)
-        signs, other = qs(-1, 0, 0, 1), qs(0, 0, -1, 1)
-        for bounds, told, truth in [
-            ((None, q(1)), (signs, q(1)), True), ((q(1), q(1)), (signs, q(1)), True), ((q(0), q(1)), (signs, q(1)), True),
-            (NO_BOUNDS, (signs, q(1)), False), ((q(1), None), (signs, q(1)), False), ((q(1), q(2)), (signs, q(1)), False),
-            ((q(0), q(2)), (signs, q(1)), False), ((None, q(1)), (signs, q(0)), False), ((None, q(1)), (signs, q(-1)), False),
-            ((q(1), None), (other, q(-1)), True), ((q(1), q(1)), (other, q(-1)), True), ((q(1), q(3)), (other, q(-1)), True),
-            (NO_BOUNDS, (other, q(-1)), False), ((None, q(1)), (other, q(-1)), False), ((q(0), q(1)), (other, q(-1)), False),
-            ((q(0), None), (other, q(-1)), False), ((q(1), None), (other, q(1)), False), ((q(1), None), (other, q(0)), False),
-            ((q(1), None), (qs(0, -1, 0, 1), q(0)), True), (NO_BOUNDS, (qs(0, -1, 0, 1), q(0)), True),
-            ((q(0), q(2)), (qs(0, -1, 0, 1), q(0)), True), (NO_BOUNDS, (qs(0, -1, 0, 0), q(0)), False),
+        above, beneath, neither = qs(-1, 0, 0, 1), qs(0, 0, -1, 1), qs(0, -1, 0, 1)
+        for low, high, signs, price, truth in [
+            (None, 1, above, 1, True), (1, 1, above, 1, True), (0, 1, above, 1, True), (None, None, above, 1, False),
+            (1, None, above, 1, False), (1, 2, above, 1, False), (0, 2, above, 1, False), (None, 1, above, 0, False),
+            (None, 1, above, -1, False), (1, None, beneath, -1, True), (1, 1, beneath, -1, True),
+            (1, 3, beneath, -1, True), (None, None, beneath, -1, False), (None, 1, beneath, -1, False),
+            (0, 1, beneath, -1, False), (0, None, beneath, -1, False), (1, None, beneath, 1, False),
+            (1, None, beneath, 0, False), (1, None, neither, 0, True), (None, None, neither, 0, True),
+            (0, 2, neither, 0, True), (None, None, qs(0, -1, 0, 0), 0, False),
         ]:
-            self.assertEqual(model_bounds.bound_fit(self.POINTS, self.PRICES, bounds, line, *told), truth)
-            self.told_truth(truth, bound_fit, self.POINTS, self.PRICES, bounds, line, told)
+            bounds = tuple(None if end is None else q(end) for end in (low, high))
+            self.assertEqual(model_bounds.bound_fit(self.POINTS, self.PRICES, bounds, line, signs, q(price)), truth)
+            self.told_truth(truth, bound_fit, self.POINTS, self.PRICES, bounds, line, (signs, q(price)))
 
     def test_a_line_beyond_the_bounds(self):
         told = (qs(0, -1, 0, 1), q(0))
         near = q(1 - num(LITTLE)), q(1 + num(LITTLE))
         for bounds, truth in [
-            ((None, near[0]), False), ((near[1], None), False), ((near[1], near[1]), False), ((near[0], near[0]), False),
+            ((None, near[0]), False), ((near[1], None), False), ((near[1], near[1]), False),
+            ((near[0], near[0]), False),
             ((q(2), q(3)), False), ((q(0), q("1/2")), False), ((near[0], near[1]), True), ((q(1), q(1)), True),
             ((None, near[1]), True), ((near[0], None), True),
         ]:
@@ -260,7 +260,8 @@ class Fit(Case):
             self.told_truth(False, bound_fit, *right, wrong)
         for wrong in wrongs.NO_FRACTIONS:
             self.told_truth(False, bound_fit, *right, (told[0], wrong))
-        for wrong in wrongs.NOTHINGS + [list(told), told[0], told[1], told + (q(0),), told[:1], (told,), told[::-1], ()]:
+        near = [list(told), told[0], told[1], told + (q(0),), told[:1], (told,), told[::-1], ()]
+        for wrong in wrongs.NOTHINGS + near:
             self.told_truth(False, bound_fit, *right, wrong)
 
     def test_as_the_model_has_it_of_anything_near(self):

@@ -14,7 +14,7 @@ from signlines.texts import read_fraction, show_fraction
 from signlines.turning import turns
 from signlines.widths import least_width
 from tests import model, model_moving, model_widths, samples, wrongs
-from tests.helpers import Case, num, pts, q, row
+from tests.helpers import Changing, num, pts, q, row
 
 QUESTIONS = ["points", "best", "corners", "cost", "signs", "turns", "width"]
 SOME = pts((0, 0), (1, "1/2", 2), (3, -1, "1/3"), (1, 5))
@@ -33,7 +33,7 @@ def desk_with(points, prices=row(1, 1)):
     return desk
 
 
-class Follows(Case):
+class Follows(Changing):
     """A desk, held row by row against a plain list of points and what the modules tell of it."""
 
     def begun(self):
@@ -117,7 +117,8 @@ class Answers(Follows):
             ("width", "0"), ("cost", "0"), ("signs", "0 0"), ("best", "0 1"), ("corners", "0 1"), ("put 2 2 1", "ok"),
             ("put 1 4 1", "ok"), ("points", "0 0 1; 1 1 1; 2 2 1; 1 4 1"), ("best", "0 1"), ("cost", "3"),
             ("turns", "3/4"), ("width", "3/2"), ("prices 3 1", "ok"), ("best", "0 1"), ("cost", "9"),
-            ("corners", "0 1; 0 4; 6 -2"), ("turns", "3/4"), ("width", "3/2"), ("prices 4 1", "ok"), ("corners", "0 4; 6 -2"),
+            ("corners", "0 1; 0 4; 6 -2"), ("turns", "3/4"), ("width", "3/2"),
+            ("prices 4 1", "ok"), ("corners", "0 4; 6 -2"),
             ("move 3 1 -1/2 3", "ok"), ("points", "0 0 1; 1 1 1; 2 2 1; 1 -1/2 3"), ("take 0", "ok"),
             ("points", "1 1 1; 2 2 1; 1 -1/2 3"), ("take 1", "ok"), ("points", "1 1 1; 1 -1/2 3"), ("take 1", "ok"),
             ("take 0", "ok"), ("points", "none"), ("put -7/3 10 1/20", "ok"), ("points", "-7/3 10 1/20"),
@@ -145,19 +146,9 @@ class Answers(Follows):
             for point in make(chance, 4):
                 self.put(*point)
             for _ in range(20):
-                self.some_change(chance, make(chance, 1)[0])
-
-    def some_change(self, chance, point):
-        many = len(self.points)
-        deed = chance.choice(["put", "take", "move", "prices"])
-        if deed == "put" and many < 12:
-            self.put(*point)
-        elif deed == "take" and many > 0:
-            self.take(chance.randrange(many))
-        elif deed == "move" and many > 0:
-            self.move(chance.randrange(many), *point)
-        elif deed == "prices":
-            self.price(*samples.some_prices(chance))
+                self.some_change(chance, make(chance, 1)[0], [])
+                if chance.randrange(3) == 0:
+                    self.price(*samples.some_prices(chance))
 
     def test_put_take_and_move_at_each_place(self):
         for k in range(4):
@@ -243,8 +234,9 @@ class Refusals(Follows):
         self.held()
 
     def test_no_row_goes_ahead_of_all_else(self):
-        for text in ("put 1 2 0 0", "put 1 2/4 0", "put 0/1 2 -1", "take 9 9", "take 09", "move 9 1 2", "move 9 1 2 0/1",
-                     "move 04 1 2 0", "move 9 1 -0 0", "prices 0 0 0", "prices -1 01", "prices 0", "best 0"):
+        for text in ("put 1 2 0 0", "put 1 2/4 0", "put 0/1 2 -1", "take 9 9", "take 09", "move 9 1 2",
+                     "move 9 1 2 0/1", "move 04 1 2 0", "move 9 1 -0 0", "prices 0 0 0", "prices -1 01",
+                     "prices 0", "best 0"):
             self.refuses("NoRow", text)
             self.refused("NoRow", Desk().say, text)
 

@@ -10,7 +10,7 @@ from signlines.kept import Kept
 from signlines.lines import cost
 from signlines.roads import is_road
 from tests import model_roads, samples, wrongs
-from tests.helpers import Case, pts, row, spoilt
+from tests.helpers import Changing, pts, row, spoilt
 
 PRICES = row(1, 2)
 SOME = pts((0, 0), (1, "1/2", 2), (3, -1, "1/3"), (1, 5))
@@ -24,7 +24,7 @@ def kept_with(points, prices=PRICES):
     return found
 
 
-class Follows(Case):
+class Follows(Changing):
     """Kept points, held step by step against a plain list and the lines that the roads led to."""
 
     def begun(self, prices):
@@ -159,19 +159,7 @@ class Changes(Follows):
                 for point in make(chance, 5):
                     self.put(*point)
                 for _ in range(12):
-                    self.some_change(chance, make(chance, 1)[0])
-
-    def some_change(self, chance, point):
-        many = len(self.points)
-        deed = chance.choice(["put", "take", "move", "undo", "undo"])
-        if deed == "put" and many < 12:
-            self.put(*point)
-        elif deed == "take" and many > 0:
-            self.take(chance.randrange(many))
-        elif deed == "move" and many > 0:
-            self.move(chance.randrange(many), *point)
-        elif deed == "undo" and self.past:
-            self.undo()
+                    self.some_change(chance, make(chance, 1)[0], ["undo", "undo"] if self.past else [])
 
     def test_long_ones(self):
         chance = random.Random(2502)

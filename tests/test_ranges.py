@@ -71,7 +71,8 @@ class Ranges(Ranging):
 
     def test_points_of_one_place(self):
         self.known(pts((0, 0), (0, 0, 2), (1, 0)), row(1, 3), (-2, 1), (-1, 2), (0, 0))
-        self.known(pts((0, 0), (0, 0, 5), (1, 0), (1, 3), (1, -3)), row(1, 1), (-1, 1), (-1, 1), (0, 0), (1, 1), (-1, -1))
+        self.known(pts((0, 0), (0, 0, 5), (1, 0), (1, 3), (1, -3)), row(1, 1),
+                   (-1, 1), (-1, 1), (0, 0), (1, 1), (-1, -1))
 
     def test_a_piece_through_one_point(self):
         points = pts((0, 0, 5), (1, 1), (1, 3))
@@ -181,7 +182,8 @@ class Held(Ranging):
         for points, prices, told in [
             (pts((0, 5), (3, -1)), row(1, 2), [0, 1]), (pts((0, 0), (1, 0), (2, 0)), row(1, 1), [0, 1, 2]),
             (pts((0, 0), (1, 1), (2, 2), (1, 4)), row(1, 1), [0, 1, 2]), (SQUARE, row(1, 1), []),
-            (pts((1, 1), (0, 0, 5), (1, 3)), row(1, 1), [1]), (pts((1, 1), (0, 0, 5), (1, 3), (0, 0)), row(1, 1), [1, 3]),
+            (pts((1, 1), (0, 0, 5), (1, 3)), row(1, 1), [1]),
+            (pts((1, 1), (0, 0, 5), (1, 3), (0, 0)), row(1, 1), [1, 3]),
             (pts((1, 4), (0, 0), (1, 1), (2, 2)), row(1, 1), [1, 2, 3]), (SQUARE, row(5, 4), [1, 3]),
         ]:
             self.assertEqual(self.asked(held, points, prices), told)
@@ -314,7 +316,8 @@ class InItsPlace(Ranging):
             points[-1] = row(40, 40, 7)
             if samples.is_spread(points):
                 self.assertEqual(held(points, prices), held_by_all(points, prices))
-                self.assertEqual(tuple(map(num, range_of(points, prices, 0))), model_bounds.sign_range(points, prices, 0))
+                told = tuple(map(num, range_of(points, prices, 0)))
+                self.assertEqual(told, model_bounds.sign_range(points, prices, 0))
                 for line in corners(points, prices)[:3]:
                     self.told_truth(True, fit, points, prices, line, strict_signs(points, prices))
                     self.assertTrue(all(rises(points, line)[k] == (0, 1) for k in held(points, prices)))

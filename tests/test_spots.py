@@ -170,7 +170,8 @@ class Costs(Case):
         for spots in samples.all_spots(1814):
             for plane in (samples.plane(chance), tuple(samples.thirty(chance) for _ in range(3))):
                 prices = samples.some_prices(chance)
-                self.assertEqual(self.asked(plane_cost, spots, prices, plane), q(model_spots.cost(spots, prices, plane)))
+                told = self.asked(plane_cost, spots, prices, plane)
+                self.assertEqual(told, q(model_spots.cost(spots, prices, plane)))
 
     def test_long_prices(self):
         chance = random.Random(1815)

@@ -203,12 +203,15 @@ NO_ROWS = [
     "put 1", "put 1 2", "put 1 2 3 4", "take 0 1", "take 0 1 2 3", "move 0", "move 0 1 2", "move 0 1 2 3 4", "move 1 2",
     "prices 1", "prices 1 2 3", "points 0", "best 1", "best best", "corners 0", "cost 1 1", "signs signs", "turns 1",
     "width 0", "points points", "put put 1 2", "Put 1 2 3", "TAKE 0", "Take 0", "move0 1 2 3", "put1 2 3", "best;", "p",
-    " ", "  ", "\n", "\t", " points", "points ", "points  ", "\npoints", "points\n", "points\t", "\tpoints", "best ", " best",
+    " ", "  ", "\n", "\t", " points", "points ", "points  ", "\npoints", "points\n", "points\t", "\tpoints", "best ",
+    " best",
     " put 1 2 3", "put 1 2 3 ", "put  1 2 3", "put 1  2 3", "put 1 2  3", "put 1 2 3\n", "put\n1 2 3", "put 1\n2 3",
     "put\t1 2 3", "put 1 2\t3", "take  0", "take 0 ", " take 0", "take 0\n", "take\n0", "take\t0", "move 0 1 2 3 ",
     "move  0 1 2 3", "move 0  1 2 3", "move 0 1 2 3\n", "prices 1 2 ", "prices  1 2", "prices 1  2", "prices 1 2\n",
-    "signs ", "turns\n", " width", "cost ", "corners\n", "corners  ", "points\nbest", "points; best", "best\x00", "b est",
-    "put 1, 2, 3", "put (1, 2, 3)", "put\u00a01 2 3", "put 1 2\u20093", "best\u00a0", "take\u00a00", "t\u0430ke 0", "prices 1;2",
+    "signs ", "turns\n", " width", "cost ", "corners\n", "corners  ", "points\nbest", "points; best", "best\x00",
+    "b est",
+    "put 1, 2, 3", "put (1, 2, 3)", "put\u00a01 2 3", "put 1 2\u20093", "best\u00a0", "take\u00a00", "t\u0430ke 0",
+    "prices 1;2",
     "put 1.5 2 3", "put 1 2 x", "take a", "take K", "move 0 1 2 1.5", "prices 1 one", "prices 1/1 2", "prices 1 2/4",
 ]
 
