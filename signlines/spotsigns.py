@@ -62,9 +62,10 @@ def spot_signs(spots, prices):
     """Signs that fit the best planes."""
     need_wide_priced(spots, prices)
     free = [ends_at(spot[3], prices, NOUGHT) for spot in spots]
-    # Those of the best plane of the spots so raised are within their ends, and fit.
     lots = [signs_by(spots, prices, three) for three in wide_threes(spots)]
-    return [signs for signs in lots if lie_between(signs, free)][0]
+    # Those by the best plane of the spots so raised are within their ends; whichever are so fit the best planes.
+    fitting = [signs for signs in lots if lie_between(signs, free)]
+    return fitting[0]
 
 
 def spot_fit(spots, prices, plane, thing):

@@ -71,6 +71,14 @@ class Known(Mixing):
         for line in (row(-1, 1), row(1, -1), row(3, 2), row(5, 0), row(0, 5), row(-1, 0), row(0, -1), row(-1, -1)):
             self.none_of(TRIANGLE, line)
 
+    def test_three_lines_the_other_way_about_and_next_to_one_another(self):
+        for lines in (lines_at((0, 0), (1, 0), (0, 1)), lines_at((0, 0), (0, 1), (1, 0))):
+            for order in (lines, lines[1:] + lines[:1], lines[::-1]):
+                self.assertEqual(self.held_to(order, row("1/3", "1/3")), qs("1/3", "1/3", "1/3"))
+                self.none_of(order, row("2/3", "2/3"))
+        small = [(q(num(h) / 1000), q(num(s) / 1000)) for h, s in lines_at((0, 0), (0, 1), (1, 0))]
+        self.held_to(small, row("1/3000", "1/3000"))
+
     def test_a_line_that_is_one_of_them_at_each_place(self):
         for lines in (TRIANGLE, TRIANGLE + lines_at((1, 1), (2, 2)), lines_at(*[(k, k * k) for k in range(30)])):
             for line in lines:
